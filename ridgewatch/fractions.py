@@ -19,6 +19,11 @@ def is_fraction(value):
     return is_whole(u) and is_whole(e) and e >= 1 and gcd(u, e) == 1
 
 
+def is_pair(value):
+    """Whether any value is a pair of fractions."""
+    return isinstance(value, tuple) and len(value) == 2 and is_fraction(value[0]) and is_fraction(value[1])
+
+
 def fraction(u, e):
     """The fraction that is u over e; e is not 0."""
     common = gcd(u, e)

@@ -1,13 +1,13 @@
 """Spots of the plane, pairs (x, y) of fractions, and straight lines through them."""
 
 from ridgewatch.fractions import (
-    added, between, compared, divided, is_fraction, lessened, multiplied, NOUGHT, summed,
+    NOUGHT, added, between, compared, divided, is_pair, lessened, multiplied, summed,
 )
 
 
 def is_spot(value):
     """Whether any value is a spot."""
-    return isinstance(value, tuple) and len(value) == 2 and is_fraction(value[0]) and is_fraction(value[1])
+    return is_pair(value)
 
 
 def way(a, b):

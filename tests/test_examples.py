@@ -1,7 +1,10 @@
 """The examples of the document's interface, as they stand there."""
 
 import doctest
+import os
 import unittest
+
+from ridgewatch.errors import BadText
 
 FRACTIONS = """
 >>> from ridgewatch.fractions import added, between, compared, divided, fraction, greatest_of, is_fraction, least_of, lessened, multiplied, summed, whole_below
@@ -22,10 +25,84 @@ SPOTS = """
 [((1, 2), (1, 2)), (8, 1), (-4, 1)]
 """
 
+RIDGES = """
+>>> from ridgewatch.ridges import cut, first_form, ground_at, is_ground_spot, is_height, is_place, joined, judge_ridge, line_of, mirrored, mirrored_ground, plain, refined, same_ground, sheared, shifted, slopes_of, spot_of, steepness, stretched, top_of
+>>> PEAK = (((0, 1), (0, 1)), ((2, 1), (4, 1)), ((4, 1), (0, 1)))
+>>> [judge_ridge(PEAK), judge_ridge(PEAK[:1]), judge_ridge((PEAK[0], (1, 2))), judge_ridge(PEAK[::-1]), slopes_of(PEAK), steepness(PEAK, 0), steepness(PEAK, 1)]
+[None, ('form',), ('corner', 1), ('ascend', 1), 2, (2, 1), (-2, 1)]
+>>> [spot_of(PEAK, (0, (1, 4))), ground_at(PEAK, (3, 1)), ground_at(PEAK, (2, 1)), ground_at(PEAK, (4, 1)), ground_at(PEAK, (5, 1)), first_form(PEAK, (0, (1, 1))), is_ground_spot(PEAK, (2, (0, 1)))]
+[((1, 2), (1, 1)), (1, (1, 2)), (1, (0, 1)), (1, (1, 1)), None, (1, (0, 1)), False]
+>>> [line_of(PEAK), top_of(PEAK), mirrored(PEAK)[0], mirrored_ground(PEAK, (0, (1, 4))), stretched(PEAK, (1, 2), (3, 1))[1], sheared(PEAK, (1, 1))[2], joined(PEAK, PEAK)[3]]
+[((0, 1), (4, 1)), (4, 1), ((-4, 1), (0, 1)), (1, (3, 4)), ((1, 1), (12, 1)), ((4, 1), (4, 1)), ((6, 1), (4, 1))]
+>>> [cut(PEAK, (1, 1), (2, 1)), refined(PEAK, ((0, (1, 2)), (1, (0, 1)))), plain(refined(PEAK, ((0, (1, 2)),))) == PEAK, same_ground(PEAK, shifted(PEAK, (0, 1), (1, 1))), is_height(PEAK, (4, 1)), is_height(PEAK, (9, 2)), is_place(PEAK, (4, 1))]
+[(((1, 1), (2, 1)), ((2, 1), (4, 1))), (((0, 1), (0, 1)), ((1, 1), (2, 1)), ((2, 1), (4, 1)), ((4, 1), (0, 1))), True, False, False, True, True]
+"""
+
+TEXTS = r"""
+>>> from ridgewatch.texts import drones_text, fraction_text, grounds_text, read_drones, read_fraction, read_grounds, read_spots, read_survey, spots_text, survey_text
+>>> [fraction_text((-3, 2)), fraction_text((4, 1)), read_fraction("-3/2"), read_fraction("0")]
+['-3/2', '4', (-3, 2), (0, 1)]
+>>> RIDGE = (((0, 1), (0, 1)), ((2, 1), (7, 2)), ((4, 1), (-1, 1)))
+>>> [spots_text("ridge", RIDGE), read_spots("room 0,0 2,0 1,5/2"), grounds_text(((0, (1, 2)), (1, (0, 1)))), read_grounds("at -"), drones_text(((1, 2), (3, 1))), read_drones("drones 1/2 3")]
+['ridge 0,0 2,7/2 4,-1', ('room', (((0, 1), (0, 1)), ((2, 1), (0, 1)), ((1, 1), (5, 2)))), 'at 0:1/2 1:0', (), 'drones 1/2 3', ((1, 2), (3, 1))]
+>>> text = survey_text("ridge", RIDGE, (("drones", ((2, 1),)), ("at", ())))
+>>> [text.split("\n"), read_survey(text) == ("ridge", RIDGE, (("drones", ((2, 1),)), ("at", ())))]
+[['ridge 0,0 2,7/2 4,-1', 'drones 2', 'at -'], True]
+>>> place_of(lambda: read_spots("ridge 0,0 2/4,1"))
+10
+>>> place_of(lambda: read_drones("drones 1 02"))
+10
+"""
+
+SIGHT = """
+>>> from ridgewatch.sight import are_apart, bar_corners, barring, common_reach, first_apart, judge_reach, left_to_right, reach, seen_by, sees
+>>> RIDGE = (((0, 1), (2, 1)), ((2, 1), (0, 1)), ((4, 1), (2, 1)), ((6, 1), (0, 1)))
+>>> H, LOW, SIDE = (3, 1), (0, (1, 1)), (2, (1, 2))
+>>> [sees(RIDGE, H, (0, 1), SIDE), barring(RIDGE, H, (0, 1), SIDE), sees(RIDGE, H, (3, 1), SIDE), seen_by(RIDGE, H, [(6, 1), (0, 1), (3, 1)], SIDE)]
+[False, (2,), True, ((6, 1), (3, 1))]
+>>> [reach(RIDGE, H, LOW), bar_corners(RIDGE, H, LOW), reach(RIDGE, H, SIDE), bar_corners(RIDGE, H, SIDE), reach(RIDGE, H, (2, (0, 1)))]
+[((0, 1), (5, 1)), (None, 2), ((3, 1), (6, 1)), (2, None), ((0, 1), (6, 1))]
+>>> [judge_reach(RIDGE, H, LOW, ((0, 1), (5, 1))), judge_reach(RIDGE, H, LOW, ((0, 1), (6, 1))), judge_reach(RIDGE, H, LOW, ((1, 1), (6, 1))), judge_reach(RIDGE, H, LOW, None)]
+[None, ('right',), ('left',), ('form',)]
+>>> [common_reach(RIDGE, H, [LOW, SIDE]), first_apart(RIDGE, H, [LOW, SIDE]), are_apart(RIDGE, H, [LOW]), left_to_right(RIDGE, H, [SIDE, LOW])]
+[((3, 1), (5, 1)), None, True, [(0, (1, 1)), (2, (1, 2))]]
+>>> DEEP = (((0, 1), (4, 1)), ((1, 1), (0, 1)), ((2, 1), (4, 1)), ((3, 1), (0, 1)), ((4, 1), (4, 1)))
+>>> [reach(DEEP, (5, 1), (0, (1, 1))), reach(DEEP, (5, 1), (2, (1, 1))), first_apart(DEEP, (5, 1), [(0, (1, 1)), (2, (1, 1))]), common_reach(DEEP, (5, 1), [(0, (1, 1)), (2, (1, 1))])]
+[((0, 1), (9, 4)), ((7, 4), (4, 1)), None, ((7, 4), (9, 4))]
+"""
+
+SLOPES = """
+>>> from ridgewatch.slopes import covered_parts, end_on, first_left, is_covered, judge_part, last_right, left_pieces, right_pieces
+>>> from ridgewatch.slopes import seen_part, slope_reach, span_floor
+>>> RIDGE = (((0, 1), (2, 1)), ((2, 1), (0, 1)), ((4, 1), (2, 1)), ((6, 1), (0, 1)))
+>>> H = (3, 1)
+>>> [slope_reach(RIDGE, H, 2, (0, 1)), slope_reach(RIDGE, H, 1, (1, 1)), slope_reach(RIDGE, H, 0, (1, 1)), span_floor(RIDGE, H)]
+[((3, 1), (6, 1)), ((0, 1), (5, 1)), ((0, 1), (5, 1)), (1, 1)]
+>>> [left_pieces(RIDGE, H, 1), right_pieces(RIDGE, H, 1), left_pieces(RIDGE, H, 2), right_pieces(RIDGE, H, 0)]
+[(((0, 1), (1, 1), None),), (((0, 1), (1, 1), 2),), (((0, 1), (1, 1), 2),), (((0, 1), (2, 3), None), ((2, 3), (1, 1), 2))]
+>>> [end_on(RIDGE, H, 0, 2, (1, 1)), end_on(RIDGE, H, 2, 2, (1, 3)), end_on(RIDGE, H, 1, None, (0, 1))]
+[(5, 1), (3, 1), None]
+>>> [first_left(RIDGE, H, 2, (3, 1)), first_left(RIDGE, H, 2, (2, 1)), last_right(RIDGE, H, 0, (6, 1)), last_right(RIDGE, H, 0, (5, 1))]
+[(0, 1), None, (2, 3), (1, 1)]
+>>> [seen_part(RIDGE, H, 0, (6, 1)), seen_part(RIDGE, H, 2, (2, 1)), judge_part(RIDGE, H, 0, (6, 1), ((0, 1), (1, 1))), judge_part(RIDGE, H, 2, (2, 1), None), judge_part(RIDGE, H, 2, (2, 1), 5)]
+[((0, 1), (2, 3)), None, ('part',), None, ('form',)]
+>>> [covered_parts(RIDGE, H, 0, [(6, 1)]), covered_parts(RIDGE, H, 0, [(6, 1), (5, 1)]), is_covered(RIDGE, H, 0, [(6, 1)]), is_covered(RIDGE, H, 2, [(0, 1), (4, 1)])]
+[(((0, 1), (2, 3)),), (((0, 1), (1, 1)),), False, True]
+"""
+
+
+def place_of(call):
+    """The place that the BadText tells which the call raises."""
+    try:
+        call()
+    except BadText as error:
+        return error.place
+    return None
+
 
 class Examples(unittest.TestCase):
     def check(self, name, text):
-        test = doctest.DocTestParser().get_doctest(text, {}, name, None, 0)
+        test = doctest.DocTestParser().get_doctest(text, {"place_of": place_of}, name, None, 0)
         said = []
         outcome = doctest.DocTestRunner(verbose=False).run(test, out=said.append)
         self.assertEqual(outcome.failed, 0, "".join(said))
@@ -36,6 +113,22 @@ class Examples(unittest.TestCase):
 
     def test_spots(self):
         self.check("spots", SPOTS)
+
+    def test_ridges(self):
+        self.check("ridges", RIDGES)
+
+    def test_texts(self):
+        self.check("texts", TEXTS)
+
+    def test_sight(self):
+        self.check("sight", SIGHT)
+
+    def test_slopes(self):
+        self.check("slopes", SLOPES)
+
+    def test_readme(self):
+        with open(os.path.join(os.path.dirname(os.path.abspath(__file__)), "..", "README.md"), encoding="utf-8") as file:
+            self.check("readme", file.read())
 
 
 if __name__ == "__main__":

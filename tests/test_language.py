@@ -44,6 +44,11 @@ def trees():
     return [(name, ast.parse(text)) for name, text in sources()]
 
 
+def is_builtin(word):
+    """Whether Python itself gives the word a meaning; doctest adds _ to these."""
+    return word != "_" and hasattr(builtins, word)
+
+
 def bound_names(node):
     """The names of parameters and variables within a node."""
     found = set()
@@ -142,7 +147,7 @@ class Names(unittest.TestCase):
     def test_builtins(self):
         for name, tree in trees():
             for node in ast.walk(tree):
-                if isinstance(node, ast.Name) and hasattr(builtins, node.id):
+                if isinstance(node, ast.Name) and is_builtin(node.id):
                     self.assertIsInstance(node.ctx, ast.Load, (name, node.lineno))
                     self.assertIn(node.id, BUILTINS, (name, node.lineno))
 
@@ -154,7 +159,7 @@ class Names(unittest.TestCase):
                 if isinstance(node, (ast.FunctionDef, ast.ClassDef)):
                     bound = bound_names(node) | {node.name}
                     self.assertFalse(bound_names(node) & taken, (name, node.name))
-                    self.assertFalse({one for one in bound if hasattr(builtins, one)}, (name, node.name))
+                    self.assertFalse({one for one in bound if is_builtin(one)}, (name, node.name))
 
     def test_barred_names(self):
         for name, tree in trees():
