@@ -3,6 +3,7 @@
 from math import gcd
 
 NOUGHT = (0, 1)
+HALF = (1, 2)
 ONE = (1, 1)
 
 
@@ -45,6 +46,11 @@ def lessened(x, y):
 def turned(x):
     """0 less x."""
     return (-x[0], x[1])
+
+
+def amount(x):
+    """x without its sign."""
+    return (abs(x[0]), x[1])
 
 
 def multiplied(x, y):

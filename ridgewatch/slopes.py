@@ -1,9 +1,8 @@
 """Where the sight from a slope ends, and which part of a slope a drone sees."""
 
-from ridgewatch.fractions import (
-    NOUGHT, ONE, compared, divided, greatest_of, least_of, lessened, order_of, turned,
-)
+from ridgewatch.fractions import NOUGHT, ONE, amount, compared, divided, greatest_of, least_of, lessened, turned
 from ridgewatch.ridges import is_share, line_of, mirrored, share_of, slopes_of, spot_of, steepness, top_of
+from ridgewatch.shares import put_together
 from ridgewatch.sight import left_end
 from ridgewatch.spots import crossing, height_at, place_at, side_of
 
@@ -168,15 +167,7 @@ def judge_part(ridge, h, i, x, value):
 def covered_parts(ridge, h, i, drones):
     """What the drones see of slope i: parts that have a share in common are put together."""
     seen = [seen_part(ridge, h, i, x) for x in drones]
-    parts = [part for part in seen if part is not None]
-    found = []
-    for k in order_of(parts):
-        t1, t2 = parts[k]
-        if found and compared(t1, found[-1][1]) <= 0:
-            found[-1] = (found[-1][0], greatest_of((found[-1][1], t2)))
-        else:
-            found.append((t1, t2))
-    return tuple(found)
+    return put_together([part for part in seen if part is not None])
 
 
 def is_covered(ridge, h, i, drones):
@@ -184,12 +175,24 @@ def is_covered(ridge, h, i, drones):
     return covered_parts(ridge, h, i, drones) == ((NOUGHT, ONE),)
 
 
+def greatest_steepness(ridge):
+    """The greatest amount of a slope's steepness."""
+    return greatest_of(tuple([amount(steepness(ridge, i)) for i in range(slopes_of(ridge))]))
+
+
+def sure_distance(ridge, h):
+    """How far each sight that a corner bars goes at least, from height h to the ridge's top; None if all is level."""
+    steep = greatest_steepness(ridge)
+    if steep == NOUGHT:
+        return None
+    return divided(lessened(h, top_of(ridge)), steep)
+
+
 def span_floor(ridge, h):
     """What each reach is at least as long as, or the whole line is."""
     start, end = line_of(ridge)
     length = lessened(end, start)
-    slopes = [steepness(ridge, i) for i in range(slopes_of(ridge))]
-    steepest = greatest_of(tuple(slopes + [turned(steep) for steep in slopes]))
-    if steepest == NOUGHT:
+    sure = sure_distance(ridge, h)
+    if sure is None:
         return length
-    return least_of((length, divided(lessened(h, top_of(ridge)), steepest)))
+    return least_of((length, sure))

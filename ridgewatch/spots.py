@@ -37,13 +37,21 @@ def place_at(a, b, y):
     return added(a[0], divided(multiplied(run, lessened(y, a[1])), rise))
 
 
-def crossing(a, b, c, d):
-    """The spot in which the lines through a and b and through c and d meet; None if there is not just one."""
+def crossing_share(a, b, c, d):
+    """Which share of the way from a to b, beyond its ends too, the line through c and d meets; None if not just one."""
     one, other = way(a, b), way(c, d)
     turn = crossed(one, other)
     if turn == NOUGHT:
         return None
-    return spot_between(a, b, divided(crossed(way(a, c), other), turn))
+    return divided(crossed(way(a, c), other), turn)
+
+
+def crossing(a, b, c, d):
+    """The spot in which the lines through a and b and through c and d meet; None if there is not just one."""
+    t = crossing_share(a, b, c, d)
+    if t is None:
+        return None
+    return spot_between(a, b, t)
 
 
 def is_within(x, y, z):

@@ -90,6 +90,83 @@ SLOPES = """
 [(((0, 1), (2, 3)),), (((0, 1), (1, 1)),), False, True]
 """
 
+DRONES = """
+>>> from ridgewatch.drones import cover, cover_for, fewest, fewest_for, judge_cover, judge_cover_for, judge_paper, judge_paper_for, most_drones, next_drone
+>>> from ridgewatch.drones import paper, paper_for, steepest, sure_step, whole_ground
+>>> HILL = tuple([((x, 1), (y, 1)) for x, y in ((0, 0), (2, 2), (4, 0))])
+>>> TWO = tuple([((x, 1), (y, 1)) for x, y in ((0, 4), (1, 0), (2, 4), (6, 4), (7, 0), (8, 4))])
+>>> [cover(HILL, (3, 1)), fewest(HILL, (3, 1)), paper(HILL, (3, 1)), whole_ground(HILL)]
+[((3, 1),), 1, ((0, (1, 2)),), ((0, (0, 1), (1, 1)), (1, (0, 1), (1, 1)))]
+>>> [cover(TWO, (5, 1)), paper(TWO, (5, 1)), next_drone(TWO, (5, 1), whole_ground(TWO), (9, 4)), next_drone(TWO, (5, 1), whole_ground(TWO), (8, 1))]
+[((9, 4), (8, 1)), ((0, (1, 2)), (3, (1, 2))), (8, 1), None]
+>>> [judge_cover(TWO, (5, 1), ((2, 1), (6, 1))), judge_cover(TWO, (5, 1), ((9, 4),)), judge_cover(HILL, (3, 1), ((5, 1),)), judge_cover(HILL, (3, 1), None)]
+[None, ('dark', (3, (0, 1), (1, 1))), ('form',), ('form',)]
+>>> [judge_paper(TWO, (5, 1), ((0, (1, 2)), (3, (1, 2)))), judge_paper(TWO, (5, 1), ((0, (1, 2)), (1, (1, 2)))), judge_paper(HILL, (3, 1), ((2, (0, 1)),))]
+[None, ('meets', 0), ('form',)]
+>>> FAR = ((3, (0, 1), (1, 1)),)
+>>> [cover_for(TWO, (5, 1), FAR), fewest_for(TWO, (5, 1), ()), paper_for(TWO, (5, 1), FAR), judge_cover_for(TWO, (5, 1), FAR, ((6, 1),)), judge_paper_for(TWO, (5, 1), FAR, ((0, (1, 2)),))]
+[((8, 1),), 0, ((3, (1, 2)),), None, ('form',)]
+>>> FLAT = (((0, 1), (0, 1)), ((1, 1), (0, 1)))
+>>> [steepest(TWO), sure_step(TWO, (5, 1)), most_drones(TWO, (5, 1)), sure_step(FLAT, (1, 1)), most_drones(FLAT, (1, 1))]
+[(4, 1), (1, 4), 18, None, 1]
+"""
+
+GROUND = """
+>>> from ridgewatch.ground import alone_parts, best_place, dark_parts, dark_width, dark_within, gain_at, greedy_drones, layers, needless, sees_all, seen_parts
+>>> from ridgewatch.ground import share_seen, stretch_of, thinned, watchers, width_of
+>>> HILL = tuple([((x, 1), (y, 1)) for x, y in ((0, 0), (2, 2), (4, 0))])
+>>> TWO = tuple([((x, 1), (y, 1)) for x, y in ((0, 4), (1, 0), (2, 4), (6, 4), (7, 0), (8, 4))])
+>>> [dark_parts(TWO, (5, 1), ((9, 4),)), dark_width(TWO, (5, 1), ((9, 4),)), sees_all(TWO, (5, 1), ((2, 1), (6, 1))), share_seen(TWO, (5, 1), ())]
+[((3, (0, 1), (1, 1)), (4, (0, 1), (7, 8))), (15, 8), True, (0, 1)]
+>>> [dark_within(TWO, (5, 1), ((9, 4),), ((2, (0, 1), (1, 1)), (4, (1, 2), (1, 1)))), seen_parts(HILL, (3, 1), ((0, 1),)), width_of(TWO, ((2, (0, 1), (1, 2)),))]
+[((4, (1, 2), (7, 8)),), ((0, (0, 1), (1, 1)),), (2, 1)]
+>>> [layers(HILL, (3, 1), ((0, 1), (2, 1))), watchers(HILL, (3, 1), ((0, 1), (2, 1)), (1, (0, 1))), watchers(HILL, (3, 1), ((0, 1), (2, 1)), (1, (1, 2)))]
+[((0, (0, 1), (1, 1), (0, 1)), (1, (0, 1), (1, 1), (1,))), (0, 1), (1,)]
+>>> [needless(HILL, (3, 1), ((0, 1), (2, 1))), thinned(HILL, (3, 1), ((0, 1), (2, 1), (3, 1))), alone_parts(HILL, (3, 1), ((0, 1), (2, 1)), 1)]
+[(0,), ((3, 1),), ((1, (0, 1), (1, 1)),)]
+>>> [stretch_of(HILL, (3, 1), ((0, 1), (2, 1)), 1), stretch_of(HILL, (3, 1), ((0, 1), (2, 1)), 0), gain_at(HILL, (3, 1), ((0, 1),), (2, 1))]
+[((1, 1), (4, 1)), ((0, 1), (4, 1)), (2, 1)]
+>>> [best_place(HILL, (3, 1), (), ((0, 1), (2, 1), (1, 1))), greedy_drones(HILL, (3, 1), ((0, 1), (4, 1)), 5)]
+[((2, 1), (4, 1)), ((0, 1), (4, 1))]
+"""
+
+ROOMS = """
+>>> from ridgewatch.rooms import area, begun_at, convex_corners, cut_room, diagonals, home, is_dentless, is_in, is_room, judge_room, moved_room, place_in, pose_of, posed_room, reflex_corners, same_room, scaled_room
+>>> ROOM = tuple([((x, 1), (y, 1)) for x, y in ((0, 0), (4, 0), (4, 2), (2, 2), (2, 4), (0, 4))])
+>>> BOW = tuple([((x, 1), (y, 1)) for x, y in ((0, 0), (2, 2), (2, 0), (0, 2))])
+>>> [judge_room(ROOM), judge_room(ROOM[::-1]), judge_room(BOW), judge_room(ROOM + ROOM[:1]), judge_room(((0, 0), (1, 0), (0, 1)))]
+[None, ('clock',), ('meet', 0, 2), ('twice', 0, 6), ('form',)]
+>>> [area(ROOM), area(scaled_room(ROOM, (1, 2))), reflex_corners(ROOM), convex_corners(ROOM), is_dentless(ROOM), is_room(ROOM[:3])]
+[(12, 1), (3, 1), (3,), (0, 1, 2, 4, 5), False, True]
+>>> [place_in(ROOM, ((2, 1), (2, 1))), place_in(ROOM, ((2, 1), (3, 1))), place_in(ROOM, ((1, 1), (1, 2))), place_in(ROOM, ((3, 1), (3, 1))), is_in(ROOM, ((0, 1), (4, 1)))]
+[('corner', 3), ('wall', 3), ('inside',), ('outside',), True]
+>>> [begun_at(ROOM, 2)[0], home(begun_at(ROOM, 4)) == ROOM, same_room(ROOM, begun_at(ROOM, 3)), posed_room(ROOM[:3], 1), posed_room(ROOM[:3], 4)]
+[((4, 1), (2, 1)), True, True, (((0, 1), (0, 1)), ((0, 1), (4, 1)), ((-2, 1), (4, 1))), (((0, 1), (0, 1)), ((-4, 1), (2, 1)), ((-4, 1), (0, 1)))]
+>>> [pose_of(ROOM, moved_room(begun_at(ROOM, 1), (1, 1), (1, 2))), pose_of(ROOM, scaled_room(ROOM, (2, 1)))]
+[(0, (1, 1), (1, 2)), None]
+>>> [diagonals(ROOM), [area(part) for part in cut_room(ROOM, 0, 3)], cut_room(ROOM, 1, 3)[0] == ROOM[1:4]]
+[((0, 2), (0, 3), (0, 4), (1, 3), (3, 5)), [(6, 1), (6, 1)], True]
+"""
+
+VIEWS = ROOMS + """
+>>> from ridgewatch.views import barred_at, best_camera, both_see, unlit_parts, judge_barred, judge_view, lit_share, needless_cameras, seen_from, wall_parts, sees_room, sees_in, view, view_share
+>>> A, B, MIDDLE = ((3, 1), (1, 1)), ((1, 1), (3, 1)), ((1, 1), (1, 1))
+>>> [sees_in(ROOM, A, B), sees_in(ROOM, A, ROOM[4]), barred_at(ROOM, A, B), judge_barred(ROOM, A, ROOM[4], barred_at(ROOM, A, ROOM[4]))]
+[True, False, None, None]
+>>> [judge_barred(ROOM, A, ROOM[4], A), judge_barred(ROOM, A, ROOM[4], MIDDLE), judge_barred(ROOM, A, ROOM[4], None)]
+[('outside',), ('way',), ('form',)]
+>>> [wall_parts(ROOM, A), unlit_parts(ROOM, [A]), lit_share(ROOM, [A])]
+[((0, (0, 1), (1, 1)), (1, (0, 1), (1, 1)), (2, (0, 1), (1, 1)), (5, (0, 1), (1, 1))), ((3, (0, 1), (1, 1)), (4, (0, 1), (1, 1))), ((1, 1), (1, 1), (1, 1), (0, 1), (0, 1), (1, 1))]
+>>> [view(ROOM, A) == ROOM[:4] + ROOM[5:], view_share(ROOM, A), view(ROOM, MIDDLE) == ROOM, sees_room(ROOM, MIDDLE), sees_room(ROOM, A)]
+[True, (5, 6), True, True, False]
+>>> [judge_view(ROOM, A, ROOM[:4] + ROOM[5:]), judge_view(ROOM, A, ROOM), judge_view(ROOM, A, ROOM[:3]), judge_view(ROOM, A, ROOM[::-1])]
+[None, ('seen', 4), ('area', (4, 1)), ('form',)]
+>>> [seen_from(ROOM, [A, B], MIDDLE), seen_from(ROOM, [A, B], ROOM[4]), unlit_parts(ROOM, [A, B]), best_camera(ROOM, [A, MIDDLE, B]), needless_cameras(ROOM, [A, MIDDLE, B]), needless_cameras(ROOM, [A, B])]
+[(0, 1), (1,), (), 1, (0, 1, 2), ()]
+>>> both_see(ROOM, A, B)
+((0, (0, 1), (1, 1)), (5, (0, 1), (1, 1)))
+"""
+
 
 def place_of(call):
     """The place that the BadText tells which the call raises."""
@@ -125,6 +202,18 @@ class Examples(unittest.TestCase):
 
     def test_slopes(self):
         self.check("slopes", SLOPES)
+
+    def test_drones(self):
+        self.check("drones", DRONES)
+
+    def test_ground(self):
+        self.check("ground", GROUND)
+
+    def test_rooms(self):
+        self.check("rooms", ROOMS)
+
+    def test_views(self):
+        self.check("views", VIEWS)
 
     def test_readme(self):
         with open(os.path.join(os.path.dirname(os.path.abspath(__file__)), "..", "README.md"), encoding="utf-8") as file:

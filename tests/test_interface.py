@@ -27,6 +27,26 @@ INTERFACE = {
               "end_on(ridge, h, i, c, t); first_left(ridge, h, i, x); last_right(ridge, h, i, x); "
               "seen_part(ridge, h, i, x); judge_part(ridge, h, i, x, value); covered_parts(ridge, h, i, drones); "
               "is_covered(ridge, h, i, drones); span_floor(ridge, h)",
+    "drones": "whole_ground(ridge); next_drone(ridge, h, parts, x); cover(ridge, h); fewest(ridge, h); "
+              "paper(ridge, h); judge_cover(ridge, h, value); judge_paper(ridge, h, value); cover_for(ridge, h, "
+              "parts); fewest_for(ridge, h, parts); paper_for(ridge, h, parts); judge_cover_for(ridge, h, parts, "
+              "value); judge_paper_for(ridge, h, parts, value); steepest(ridge); sure_step(ridge, h); "
+              "most_drones(ridge, h)",
+    "ground": "dark_parts(ridge, h, drones); dark_within(ridge, h, drones, parts); sees_all(ridge, h, drones); "
+              "seen_parts(ridge, h, drones); layers(ridge, h, drones); watchers(ridge, h, drones, spot); "
+              "width_of(ridge, parts); dark_width(ridge, h, drones); share_seen(ridge, h, drones); "
+              "needless(ridge, h, drones); thinned(ridge, h, drones); alone_parts(ridge, h, drones, k); "
+              "stretch_of(ridge, h, drones, k); gain_at(ridge, h, drones, x); best_place(ridge, h, drones, "
+              "places); greedy_drones(ridge, h, places, k)",
+    "rooms": "judge_room(value); is_room(value); area(room); place_in(room, spot); is_in(room, spot); "
+             "reflex_corners(room); convex_corners(room); is_dentless(room); begun_at(room, i); home(room); "
+             "same_room(one, other); moved_room(room, dx, dy); scaled_room(room, f); posed_room(room, t); "
+             "pose_of(one, other); diagonals(room); cut_room(room, i, j)",
+    "views": "sees_in(room, one, other); barred_at(room, one, other); judge_barred(room, one, other, value); "
+             "wall_parts(room, camera); unlit_parts(room, cameras); lit_share(room, cameras); view(room, "
+             "camera); view_share(room, camera); sees_room(room, camera); judge_view(room, camera, value); "
+             "seen_from(room, cameras, spot); both_see(room, one, other); best_camera(room, cameras); "
+             "needless_cameras(room, cameras)",
 }
 
 

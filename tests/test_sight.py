@@ -3,7 +3,7 @@
 import unittest
 from fractions import Fraction
 
-from helpers import NONE_AT_ALL, dice, exact, frac, nested, some_ridge, spots, told
+from helpers import NONE_AT_ALL, dice, exact, frac, nested, numbers, some_ridge, spots, told
 from ridgewatch.fractions import compared, greatest_of, least_of, multiplied
 from ridgewatch.ridges import (
     ground_at, line_of, mirrored, mirrored_ground, refined, shifted, slopes_of, spot_of, stretched, top_of,
@@ -17,11 +17,6 @@ H = frac("3")
 DEEP = spots("0,4 1,0 2,4 3,0 4,4")
 STAIRS = spots("0,3 1,2 2,1 3,0 4,0")
 """Three corners in one line of sight from corner 3."""
-
-
-def numbers(ridge):
-    """The corners by Python's own numbers."""
-    return [(exact(x), exact(y)) for x, y in ridge]
 
 
 def barring_by_words(ridge, h, x, g):

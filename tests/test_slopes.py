@@ -3,7 +3,7 @@
 import unittest
 from fractions import Fraction
 
-from helpers import NONE_AT_ALL, dice, exact, frac, nested, some_ridge, spots, told
+from helpers import NONE_AT_ALL, dice, ends_by_words, exact, frac, nested, numbers, side_by_words, some_ridge, spots, told
 from ridgewatch.fractions import compared, lessened
 from ridgewatch.ridges import line_of, mirrored, slopes_of, top_of
 from ridgewatch.sight import reach, sees
@@ -16,32 +16,6 @@ TEETH = spots("0,2 2,0 4,2 6,0")
 H = frac("3")
 WHOLE = ((0, 1), (1, 1))
 NOUGHT, ONE = (0, 1), (1, 1)
-
-
-def numbers(ridge):
-    """The corners by Python's own numbers."""
-    return [(exact(x), exact(y)) for x, y in ridge]
-
-
-def side_by_words(ridge, h, i, t, sign):
-    """The end that 4.1 tells, to the left with -1, and the c of 4.2 that stands there."""
-    points = numbers(ridge)
-    (p, q), (r, s) = points[i], points[i + 1]
-    x, y = p + t * (r - p), q + t * (s - q)
-    lines = [((v - y) / abs(u - x), -abs(u - x), k) for k, (u, v) in enumerate(points) if sign * (u - x) > 0 and v > y]
-    if (s - q) * sign > 0:
-        lines.append((abs((s - q) / (r - p)), 0, i if sign < 0 else i + 1))
-    end = points[0][0] if sign < 0 else points[-1][0]
-    if not lines:
-        return end, None
-    steep, _, k = max(lines)
-    place = x + sign * (h - y) / steep
-    return (end, None) if sign * (place - end) > 0 else (place, k)
-
-
-def ends_by_words(ridge, h, i, t):
-    """L and R."""
-    return side_by_words(ridge, h, i, t, -1)[0], side_by_words(ridge, h, i, t, 1)[0]
 
 
 def turning_shares(ridge, h, i):
