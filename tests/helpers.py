@@ -277,6 +277,22 @@ def crosses(one, other):
     return (turn(a, b, c) > 0) != (turn(a, b, d) > 0) and (turn(c, d, a) > 0) != (turn(c, d, b) > 0)
 
 
+def is_inner_by_words(points, i, j):
+    """Whether the way between two corners is in the room and meets walls at its ends alone."""
+    many = len(points)
+    if (j - i) % many in (1, many - 1):
+        return False
+    one, other = points[i], points[j]
+    for a, b in rows_of(points):
+        if one in (a, b) or other in (a, b):
+            far = [p for p in (a, b) if p not in (one, other)]
+            if any(crosses((one, other), (p, p)) for p in far):
+                return False
+        elif crosses((one, other), (a, b)):
+            return False
+    return is_in_by_words(points, point_between(one, other, Fraction(1, 2)))
+
+
 def some_points(rng, corners, size=4):
     """The corners of a room, at most so many, on a small grid, so that many lie in one line."""
     grid = [(Fraction(x), Fraction(y)) for x in range(size + 1) for y in range(size + 1)]
@@ -317,3 +333,40 @@ def some_spots_in(rng, points):
 def spot_told(p):
     """The spot of a point in Python's own numbers."""
     return (told(p[0]), told(p[1]))
+
+
+def hull(points):
+    """The corners of the least convex lot with these points, against the clock from the least, none straight on."""
+    points = sorted(set(points))
+    if len(points) < 3:
+        return points
+    rows = []
+    for row in (points, points[::-1]):
+        found = []
+        for p in row:
+            while len(found) > 1 and turn(found[-2], found[-1], p) <= 0:
+                found.pop()
+            found.append(p)
+        rows += found[:-1]
+    return rows
+
+
+def lead_by_words(side, p):
+    """By how much p lies on the side (a, b, c)."""
+    return side[0] * p[0] + side[1] * p[1] - side[2]
+
+
+def clipped_by_words(corners, side):
+    """What of a convex lot, told by its corners, is on the side: all that lies on it of each way between two corners."""
+    found = [p for p in corners if lead_by_words(side, p) >= 0]
+    for p in corners:
+        for q in corners:
+            lead, other = lead_by_words(side, p), lead_by_words(side, q)
+            if lead > 0 > other:
+                found.append(point_between(p, q, lead / (lead - other)))
+    return hull(found)
+
+
+def inner_by_words(points):
+    """The inner sides of a room, by Python's own numbers."""
+    return [(y - v, u - x, (y - v) * x + (u - x) * y) for (x, y), (u, v) in rows_of(points)]

@@ -167,6 +167,46 @@ VIEWS = ROOMS + """
 ((0, (0, 1), (1, 1)), (5, (0, 1), (1, 1)))
 """
 
+SIDES = """
+>>> from ridgewatch.sides import clipped, form_area, inner_side, inner_sides, is_on, lead_of, lies_in_form
+>>> ELL = tuple([((x, 1), (y, 1)) for x, y in ((0, 0), (2, 0), (2, 1), (1, 1), (1, 2), (0, 2))])
+>>> [inner_side(ELL, 0), inner_side(ELL, 2), len(inner_sides(ELL)), lead_of(inner_side(ELL, 2), ELL[4]), is_on(inner_side(ELL, 2), ELL[4])]
+[((0, 1), (2, 1), (0, 1)), ((0, 1), (-1, 1), (-1, 1)), 6, (-1, 1), False]
+>>> FORM = (((0, 1), (0, 1)), ((2, 1), (0, 1)), ((0, 1), (2, 1)))
+>>> [clipped(FORM, ((1, 1), (0, 1), (1, 1))), clipped(FORM, ((1, 1), (0, 1), (2, 1))), clipped(FORM, ((1, 1), (0, 1), (3, 1))), clipped(FORM, ((0, 1), (-1, 1), (0, 1)))]
+[(((1, 1), (0, 1)), ((2, 1), (0, 1)), ((1, 1), (1, 1))), (((2, 1), (0, 1)),), (), (((0, 1), (0, 1)), ((2, 1), (0, 1)))]
+>>> [form_area(FORM), form_area(FORM[:2]), lies_in_form(FORM, ((1, 1), (1, 1))), lies_in_form(FORM[:2], ((1, 1), (0, 1))), lies_in_form((), ELL[0])]
+[(2, 1), (0, 1), True, True, False]
+"""
+
+KERNELS = SIDES + """
+>>> from ridgewatch.kernels import bars, common_spot, deepest, is_in_kernel, judge_bars, kernel, most_sides, shrunk_kernel, walls_behind
+>>> [kernel(ELL) == tuple([((x, 1), (y, 1)) for x, y in ((0, 0), (1, 0), (1, 1), (0, 1))]), is_in_kernel(ELL, ELL[3]), is_in_kernel(ELL, ELL[4]), bars(ELL)]
+[True, True, False, None]
+>>> TEETH = tuple([((x, 1), (y, 1)) for x, y in ((0, -1), (5, -1), (4, 3), (3, 0), (2, 0), (1, 3))])
+>>> [kernel(TEETH), bars(TEETH), common_spot(TEETH, (0, 2, 4)), walls_behind(TEETH, TEETH[5]), most_sides(TEETH)]
+[(), ((0, 2), (2, 5), (4, 5)), None, (2, 3), (5, ((-8, 1), (-33, 1)))]
+>>> [judge_bars(TEETH, bars(TEETH)), judge_bars(TEETH, ((0, 4), (2, 10), (4, 10))), judge_bars(TEETH, ((0, 1), (2, 5), (4, 5))), judge_bars(TEETH, ((0, 1), (3, 5))), judge_bars(TEETH, ())]
+[None, None, ('turn',), ('lead',), ('form',)]
+>>> [deepest(ELL), shrunk_kernel(ELL, (2, 3)), len(shrunk_kernel(ELL, (1, 2))), shrunk_kernel(ELL, (1, 1)), deepest(TEETH)[0][0] < 0]
+[((2, 3), ((1, 3), (1, 3))), (((1, 3), (1, 3)),), 4, (), True]
+"""
+
+TRIANGLES = """
+>>> from ridgewatch.triangles import ears, inner_ways, judge_cut, leaves_of, next_pairs, triangles, way_through
+>>> ELL = tuple([((x, 1), (y, 1)) for x, y in ((0, 0), (2, 0), (2, 1), (1, 1), (1, 2), (0, 2))])
+>>> inner_ways(ELL)
+((0, 2), (0, 3), (0, 4), (1, 3), (3, 5))
+>>> CUT = triangles(ELL)
+>>> [CUT, ears(ELL), next_pairs(CUT), way_through(CUT, 0, 3), leaves_of(CUT)]
+[((0, 1, 2), (0, 2, 3), (0, 3, 5), (3, 4, 5)), (1, 2, 4, 5), ((0, 1), (1, 2), (2, 3)), (0, 1, 2, 3), (0, 3)]
+>>> [judge_cut(ELL, CUT), judge_cut(ELL, CUT[:3]), judge_cut(ELL, ((0, 1, 2), (0, 2, 5), (2, 3, 5), (3, 4, 5))), judge_cut(ELL, CUT[::-1])]
+[None, ('many', 3), ('side', 1), ('form',)]
+>>> SQUARE = tuple([((x, 1), (y, 1)) for x, y in ((0, 0), (1, 0), (1, 1), (0, 1))])
+>>> [triangles(SQUARE), judge_cut(SQUARE, ((0, 1, 2), (0, 2, 3))), judge_cut(SQUARE, ((0, 1, 2), (0, 1, 3)))]
+[((0, 1, 3), (1, 2, 3)), None, ('meet', 0, 1)]
+"""
+
 
 def place_of(call):
     """The place that the BadText tells which the call raises."""
@@ -214,6 +254,15 @@ class Examples(unittest.TestCase):
 
     def test_views(self):
         self.check("views", VIEWS)
+
+    def test_sides(self):
+        self.check("sides", SIDES)
+
+    def test_kernels(self):
+        self.check("kernels", KERNELS)
+
+    def test_triangles(self):
+        self.check("triangles", TRIANGLES)
 
     def test_readme(self):
         with open(os.path.join(os.path.dirname(os.path.abspath(__file__)), "..", "README.md"), encoding="utf-8") as file:

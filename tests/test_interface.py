@@ -47,6 +47,12 @@ INTERFACE = {
              "camera); view_share(room, camera); sees_room(room, camera); judge_view(room, camera, value); "
              "seen_from(room, cameras, spot); both_see(room, one, other); best_camera(room, cameras); "
              "needless_cameras(room, cameras)",
+    "sides": "lead_of(side, spot); is_on(side, spot); inner_side(room, i); inner_sides(room); clipped(form, "
+             "side); lies_in_form(form, spot); form_area(form)",
+    "kernels": "is_in_kernel(room, spot); kernel(room); common_spot(room, walls); bars(room); judge_bars(room, "
+               "value); walls_behind(room, spot); most_sides(room); shrunk_kernel(room, lead); deepest(room)",
+    "triangles": "inner_ways(room); ears(room); triangles(room); judge_cut(room, value); next_pairs(cut); "
+                 "way_through(cut, j, k); leaves_of(cut)",
 }
 
 

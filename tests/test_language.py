@@ -2,10 +2,13 @@
 
 import ast
 import builtins
+import functools
 import os
 import unittest
 
 FOLDER = os.path.join(os.path.dirname(os.path.dirname(os.path.abspath(__file__))), "ridgewatch")
+
+LIBRARY = {"math": "gcd", "itertools": "combinations"}
 
 BUILTINS = set(
     "len range enumerate zip min max sum abs sorted reversed int str bool list tuple dict set isinstance ord repr any "
@@ -39,6 +42,7 @@ def sources():
     return found
 
 
+@functools.cache
 def trees():
     """Each file's name and tree."""
     return [(name, ast.parse(text)) for name, text in sources()]
@@ -68,6 +72,7 @@ class Files(unittest.TestCase):
             for line in text.split("\n"):
                 self.assertLessEqual(len(line), 120, name)
                 self.assertRegex(line, r"^[ -~]*$", name)
+                self.assertNotIn("_wall", line, name)
 
     def test_functions_are_short(self):
         for name, tree in trees():
@@ -113,8 +118,8 @@ class Code(unittest.TestCase):
                         self.assertIsNone(alias.asname)
                         self.assertNotIn(alias.name, defined, name)
                         defined[alias.name] = True
-                        if node.module == "math":
-                            self.assertEqual(alias.name, "gcd")
+                        if node.module in LIBRARY:
+                            self.assertEqual(alias.name, LIBRARY[node.module])
                             continue
                         file = node.module.replace("ridgewatch.", "") + ".py"
                         told = {part.name for part in dict(trees())[file].body
@@ -135,7 +140,7 @@ class Code(unittest.TestCase):
 
     def test_no_circles(self):
         needs = {name: [node.module.replace("ridgewatch.", "") + ".py" for node in tree.body
-                        if isinstance(node, ast.ImportFrom) and node.module != "math"] for name, tree in trees()}
+                        if isinstance(node, ast.ImportFrom) and node.module not in LIBRARY] for name, tree in trees()}
         placed = set()
         while len(placed) < len(needs):
             ready = [name for name in needs if name not in placed and all(other in placed for other in needs[name])]

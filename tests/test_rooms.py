@@ -4,8 +4,8 @@ import unittest
 from fractions import Fraction
 
 from helpers import (
-    NONE_AT_ALL, crosses, dice, exact, frac, is_in_by_words, is_room_by_words, nested, numbers, point_between, room_of,
-    rows_of, some_points, some_room, some_spots_in, spot, spot_told, spots, told, turn, where_by_words,
+    NONE_AT_ALL, crosses, dice, exact, frac, is_inner_by_words, is_room_by_words, nested, numbers, room_of, rows_of,
+    some_points, some_room, some_spots_in, spot, spot_told, spots, told, turn, where_by_words,
 )
 from ridgewatch.rooms import (
     area, begun_at, convex_corners, cut_room, diagonals, home, is_dentless, is_in, is_room, judge_room, moved_room,
@@ -257,22 +257,6 @@ class Same(unittest.TestCase):
                     self.assertFalse(same_room(tried, goal))
             seen[found[0]] = True
         self.assertEqual(sorted(seen), list(range(8)))
-
-
-def is_inner_by_words(points, i, j):
-    """Whether the way between two corners is in the room and meets walls at its ends alone."""
-    many = len(points)
-    if (j - i) % many in (1, many - 1):
-        return False
-    one, other = points[i], points[j]
-    for a, b in rows_of(points):
-        if one in (a, b) or other in (a, b):
-            far = [p for p in (a, b) if p not in (one, other)]
-            if any(crosses((one, other), (p, p)) for p in far):
-                return False
-        elif crosses((one, other), (a, b)):
-            return False
-    return is_in_by_words(points, point_between(one, other, Fraction(1, 2)))
 
 
 def is_diagonal_by_words(points, i, j):
