@@ -12,6 +12,18 @@ def is_whole(value):
     return isinstance(value, int) and not isinstance(value, bool)
 
 
+def are_numbers(value, many):
+    """Whether any value is an ascending tuple of unlike integers from 0 on, all below many."""
+    if not isinstance(value, tuple):
+        return False
+    last = -1
+    for number in value:
+        if not is_whole(number) or not last < number < many:
+            return False
+        last = number
+    return True
+
+
 def is_fraction(value):
     """Whether any value is a fraction."""
     if not isinstance(value, tuple) or len(value) != 2:

@@ -7,7 +7,7 @@ from ridgewatch.fractions import (
     NOUGHT, ONE, compared, divided, greatest_of, least_of, lessened, multiplied, order_of, summed,
 )
 from ridgewatch.ridges import line_of, slopes_of
-from ridgewatch.shares import in_common, left_out, shares_in_order
+from ridgewatch.shares import in_common, in_order, left_out
 from ridgewatch.sight import reach
 from ridgewatch.slopes import covered_parts, seen_part, slope_reach
 
@@ -71,7 +71,7 @@ def slope_layers(ridge, h, i, drones):
         if part is not None:
             ends.extend(part)
     # Wherever one layer ends a drone's part does: single seen shares lie at 0 and 1 alone.
-    shares = shares_in_order(ends)
+    shares = in_order(ends)
     found = []
     for a, b in zip(shares, shares[1:]):
         found.append((i, a, b, tuple([k for k in range(len(parts)) if holds(parts[k], a, b)])))

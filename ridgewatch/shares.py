@@ -3,12 +3,12 @@
 from ridgewatch.fractions import NOUGHT, ONE, compared, greatest_of, least_of, order_of
 
 
-def shares_in_order(shares):
-    """The tuple of the shares, ascending, each once."""
+def in_order(some):
+    """The tuple of the fractions, ascending, each once."""
     found = []
-    for k in order_of([(t,) for t in shares]):
-        if not found or found[-1] != shares[k]:
-            found.append(shares[k])
+    for k in order_of([(x,) for x in some]):
+        if not found or found[-1] != some[k]:
+            found.append(some[k])
     return tuple(found)
 
 

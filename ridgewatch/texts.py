@@ -7,12 +7,25 @@ DIGITS = "0123456789"
 MOST_DIGITS = 60
 
 
+def whole_text(n):
+    """The text of an integer, written block by block: Python itself writes only integers of some thousand digits."""
+    rest = abs(n)
+    blocks = []
+    while rest >= 10 ** 60:
+        rest, block = divmod(rest, 10 ** 60)
+        blocks.append(str(block).zfill(60))
+    digits = "".join([str(rest)] + blocks[::-1])
+    if n < 0:
+        return "-" + digits
+    return digits
+
+
 def fraction_text(x):
     """The text of a fraction."""
     u, e = x
     if e == 1:
-        return str(u)
-    return f"{u}/{e}"
+        return whole_text(u)
+    return whole_text(u) + "/" + whole_text(e)
 
 
 def line_text(word, parts):

@@ -1,6 +1,6 @@
 """Rooms cut into triangles, triples of numbers of corners, and the tree that these make."""
 
-from ridgewatch.fractions import is_whole
+from ridgewatch.fractions import are_numbers
 from ridgewatch.rooms import are_neighbours, inner_pairs
 from ridgewatch.sides import lies_in_form
 from ridgewatch.spots import side_of
@@ -44,14 +44,7 @@ def triangles(room):
 
 def is_triple(room, value):
     """Whether any value is an ascending triple of unlike numbers of corners."""
-    if not isinstance(value, tuple) or len(value) != 3:
-        return False
-    last = -1
-    for i in value:
-        if not is_whole(i) or not last < i < len(room):
-            return False
-        last = i
-    return True
+    return are_numbers(value, len(room)) and len(value) == 3
 
 
 def are_triples(room, value):

@@ -4,7 +4,7 @@ from ridgewatch.fractions import (
     HALF, NOUGHT, ONE, added, amount, between, compared, divided, greatest_of, lessened, order_of, summed,
 )
 from ridgewatch.rooms import area, home, is_in, is_room, same_room, wall_ends
-from ridgewatch.shares import in_common, left_out, put_together, shares_in_order
+from ridgewatch.shares import in_common, in_order, left_out, put_together
 from ridgewatch.spots import crossed, crossing_share, is_between, is_spot, side_of, spot_between, way
 
 
@@ -20,7 +20,7 @@ def way_shares(room, one, other):
             t = crossing_share(one, other, a, b)
             if compared(NOUGHT, t) < 0 and compared(t, ONE) < 0:
                 found.append(t)
-    return shares_in_order(found)
+    return in_order(found)
 
 
 def barred_at(room, one, other):

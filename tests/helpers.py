@@ -2,6 +2,7 @@
 
 import random
 from fractions import Fraction
+from itertools import combinations
 
 NONE_AT_ALL = [
     None, True, False, 0, 1, -3, 10 ** 59, "", "1/2", "(1, 2)", (), [], {}, (1,), (1, 2, 3), [1, 2], (0, 0), (1, 0),
@@ -168,6 +169,50 @@ def dark_by_words(ridge, h, drones, parts):
             if not lot:
                 found.add((i, t, u))
     return tuple((i, told(t), told(u)) for i, t, u in sorted(found))
+
+
+def waiting_by_words(ridge, h, some, x):
+    """For each part with spots not seen yet (i, a, c, R), as 5.1 tells; x None for all."""
+    found = []
+    for i, a, b in some:
+        a, b, c = exact(a), exact(b), None
+        if x is None:
+            c = b
+        else:
+            shares = [t for t in drone_shares(ridge, exact(h), i, [exact(x)], (a, b)) if a <= t <= b]
+            for t, u in zip(shares, shares[1:]):
+                if ends_by_words(ridge, exact(h), i, (t + u) / 2)[0] > exact(x):
+                    c = u
+        if c is not None:
+            found.append((i, a, c, ends_by_words(ridge, exact(h), i, c)[1]))
+    return found
+
+
+def drones_by_words(ridge, h, some):
+    """The drones that 5.2 tells."""
+    found, x = [], None
+    while True:
+        ends = [end for _, _, _, end in waiting_by_words(ridge, h, some, x)]
+        if not ends:
+            return tuple(found)
+        x = told(min(ends))
+        found.append(x)
+
+
+def paper_by_words(ridge, h, some):
+    """The ground spots that 5.2 tells."""
+    drones = drones_by_words(ridge, h, some)
+    found, later = [], None
+    for k in reversed(range(len(drones))):
+        ahead = drones[k - 1] if k else None
+        i, a, c, _ = [row for row in waiting_by_words(ridge, h, some, ahead) if row[3] == exact(drones[k])][0]
+        n = 2
+        while later is not None and ends_by_words(ridge, exact(h), i, c - (c - a) / n)[1] >= later:
+            n *= 2
+        t = c - (c - a) / n
+        found.insert(0, (i, told(t)))
+        later = ends_by_words(ridge, exact(h), i, t)[0]
+    return tuple(found)
 
 
 def whole(ridge):
@@ -370,3 +415,71 @@ def clipped_by_words(corners, side):
 def inner_by_words(points):
     """The inner sides of a room, by Python's own numbers."""
     return [(y - v, u - x, (y - v) * x + (u - x) * y) for (x, y), (u, v) in rows_of(points)]
+
+
+def comb_by_words(k):
+    """What 10.7 tells of comb."""
+    corners = ["0,-1", f"{3 * k - 1},-1"]
+    for j in reversed(range(k)):
+        corners += [f"{3 * j + 1},3"] + ([f"{3 * j},0", f"{3 * j - 1},0"] if j else [])
+    return spots(" ".join(corners))
+
+
+def all_cuts(points):
+    """All cuts, each found by what stands on the wall from the last corner to corner 0."""
+    ways = {(i, j) for i, j in combinations(range(len(points)), 2) if is_inner_by_words(points, i, j)}
+    ways |= {(i, i + 1) for i in range(len(points) - 1)} | {(0, len(points) - 1)}
+
+    def between(i, j):
+        if j - i == 1:
+            return [()]
+        return [one + other + ((i, k, j),) for k in range(i + 1, j) if (i, k) in ways and (k, j) in ways
+                for one in between(i, k) for other in between(k, j)]
+    return [tuple(sorted(cut)) for cut in between(0, len(points) - 1)]
+
+
+def some_choice(rng, cameras, spots, share, seen=False):
+    """A choice with so many of each, a camera seeing this share of the spots; with seen each spot is seen by one."""
+    lots = [{j for j in range(spots) if rng.random() < share} for _ in range(cameras)]
+    for j in range(spots):
+        if seen and not any(j in lot for lot in lots):
+            rng.choice(lots).add(j)
+    return (spots, tuple(tuple(sorted(lot)) for lot in lots))
+
+
+def chosen_by_words(choice, many=1):
+    """The first of the tuples of cameras, the fewest first, of which each spot is seen by at least so many."""
+    n, lots = choice
+    for size in range(len(lots) + 1):
+        for cameras in combinations(range(len(lots)), size):
+            if all(sum(j in lots[c] for c in cameras) >= many for j in range(n)):
+                return cameras
+    return None
+
+
+def hidden_by_words(choice):
+    """The first of the tuples of hidden spots, the longest first."""
+    n, lots = choice
+    seen = [j for j in range(n) if any(j in lot for lot in lots)]
+    for size in reversed(range(n + 1)):
+        for some in combinations(seen, size):
+            if all(sum(j in some for j in lot) <= 1 for lot in lots):
+                return some
+
+
+def some_graph(rng, cameras, spots):
+    """A choice in which two cameras see each spot."""
+    lots = [[] for _ in range(cameras)]
+    for j in range(spots):
+        for c in rng.sample(range(cameras), 2):
+            lots[c].append(j)
+    return (spots, tuple(map(tuple, lots)))
+
+
+def number_of(digits):
+    """The integer with these digits, however many, read part by part."""
+    value = 0
+    for k in range(0, len(digits), 1000):
+        part = digits[k:k + 1000]
+        value = value * 10 ** len(part) + int(part)
+    return value

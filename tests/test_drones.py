@@ -4,8 +4,8 @@ import unittest
 from fractions import Fraction
 
 from helpers import (
-    NONE_AT_ALL, dark_by_words, dice, drone_shares, ends_by_words, exact, frac, grounds, nested, parts, places,
-    some_case, some_drones, some_parts, spots, told, whole,
+    NONE_AT_ALL, dark_by_words, dice, drones_by_words, ends_by_words, exact, frac, grounds, nested, paper_by_words,
+    parts, places, some_case, some_drones, some_parts, spots, told, waiting_by_words, whole,
 )
 from ridgewatch.drones import (
     cover, cover_for, fewest, fewest_for, judge_cover, judge_cover_for, judge_paper, judge_paper_for, most_drones,
@@ -27,50 +27,6 @@ FIVE = (5, 1)
 def part(text):
     """A part of the ground like 0:1/4:1/2."""
     return parts(text)[0]
-
-
-def waiting_by_words(ridge, h, some, x):
-    """For each part with spots not seen yet (i, a, c, R), as 5.1 tells; x None for all."""
-    found = []
-    for i, a, b in some:
-        a, b, c = exact(a), exact(b), None
-        if x is None:
-            c = b
-        else:
-            shares = [t for t in drone_shares(ridge, exact(h), i, [exact(x)], (a, b)) if a <= t <= b]
-            for t, u in zip(shares, shares[1:]):
-                if ends_by_words(ridge, exact(h), i, (t + u) / 2)[0] > exact(x):
-                    c = u
-        if c is not None:
-            found.append((i, a, c, ends_by_words(ridge, exact(h), i, c)[1]))
-    return found
-
-
-def cover_by_words(ridge, h, some):
-    """The drones that 5.2 tells."""
-    found, x = [], None
-    while True:
-        ends = [end for _, _, _, end in waiting_by_words(ridge, h, some, x)]
-        if not ends:
-            return tuple(found)
-        x = told(min(ends))
-        found.append(x)
-
-
-def paper_by_words(ridge, h, some):
-    """The ground spots that 5.2 tells."""
-    drones = cover_by_words(ridge, h, some)
-    found, later = [], None
-    for k in reversed(range(len(drones))):
-        ahead = drones[k - 1] if k else None
-        i, a, c, _ = [row for row in waiting_by_words(ridge, h, some, ahead) if row[3] == exact(drones[k])][0]
-        n = 2
-        while later is not None and ends_by_words(ridge, exact(h), i, c - (c - a) / n)[1] >= later:
-            n *= 2
-        t = c - (c - a) / n
-        found.insert(0, (i, told(t)))
-        later = ends_by_words(ridge, exact(h), i, t)[0]
-    return tuple(found)
 
 
 def cases(seed, many, corners=8):
@@ -156,7 +112,7 @@ class Cover(unittest.TestCase):
         many = {}
         for _, ridge, h, some in cases(2, 150, 12):
             for ground, drones in ((whole(ridge), cover(ridge, h)), (some, cover_for(ridge, h, some))):
-                self.assertEqual(drones, cover_by_words(ridge, h, ground))
+                self.assertEqual(drones, drones_by_words(ridge, h, ground))
                 many[len(drones)] = many.get(len(drones), 0) + 1
             self.assertEqual([fewest(ridge, h), fewest_for(ridge, h, some)],
                              [len(cover(ridge, h)), len(cover_for(ridge, h, some))])
@@ -171,7 +127,7 @@ class Cover(unittest.TestCase):
         # Parts that touch, within one slope, and one within another.
         for some in (parts("1:0:1/3 1:1/3:1"), parts("1:1/4:3/4"), parts("1:0:1 1:1/3:1/2")):
             self.assertEqual(fewest_for(TWO, FIVE, some), 1)
-            self.assertEqual(cover_for(TWO, FIVE, some), cover_by_words(TWO, FIVE, some))
+            self.assertEqual(cover_for(TWO, FIVE, some), drones_by_words(TWO, FIVE, some))
         self.assertEqual(cover_for(TWO, FIVE, parts("0:1/2:1 4:1/4:1/2")), places("9/4 8"))
         self.assertEqual(cover_for(VALLEYS, (10, 1), parts("0:0:1/9 9:8/9:1")), places("35/9 11"))
 

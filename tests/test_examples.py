@@ -207,6 +207,97 @@ TRIANGLES = """
 [((0, 1, 3), (1, 2, 3)), None, ('meet', 0, 1)]
 """
 
+CAMERAS = TRIANGLES + """
+>>> from ridgewatch.cameras import cameras, colours, comb, covers, fewest_covering, judge_colours, seeing_tip, tips
+>>> [colours(CUT), cameras(ELL), covers(CUT, (0,)), covers(CUT, (0, 3)), fewest_covering(CUT), judge_colours(CUT, (0, 1, 2, 1, 0, 0)), judge_colours(CUT, colours(CUT)[:5])]
+[(0, 1, 2, 1, 0, 2), (0, 4), False, True, (0, 3), ('alike', 2), ('form',)]
+>>> [comb(1), len(comb(3)), len(cameras(comb(3))), tips(2)]
+[(((0, 1), (-1, 1)), ((2, 1), (-1, 1)), ((1, 1), (3, 1))), 9, 3, (((1, 1), (3, 1)), ((4, 1), (3, 1)))]
+>>> [[x for x, y in comb(2)], seeing_tip(2, 0)]
+[[(0, 1), (5, 1), (4, 1), (3, 1), (2, 1), (1, 1)], (((0, 1), (-1, 1)), ((7, 3), (-1, 1)), ((1, 1), (3, 1)))]
+"""
+
+CHOOSING = """
+>>> from ridgewatch.choosing import cases_for, choice_of_ridge, choice_of_room, fewest_cameras, gap, is_choice, judge_cases, judge_cameras, judge_hidden, judge_verdict, most_hidden, right_ends, sees_spot, spots_seen, unseen, verdict
+>>> RING = (3, ((0, 1), (1, 2), (0, 2)))
+>>> ROW = (4, ((0, 1), (1, 2, 3), (3,), (0,)))
+>>> [is_choice(RING), is_choice((3, ((0, 3),))), is_choice((2, [(0,)])), is_choice((0, ())), sees_spot(ROW, 0), spots_seen(ROW, (2, 3)), unseen(ROW), unseen((2, ((0,),)))]
+[True, False, False, True, (0, 3), (0, 3), (), (1,)]
+>>> [fewest_cameras(RING), fewest_cameras(ROW), fewest_cameras((2, ((0,),))), fewest_cameras((0, ((), ()))), most_hidden(RING), most_hidden(ROW), gap(RING), gap(ROW), gap((2, ((0,),)))]
+[(0, 1), (0, 1), None, (), (0,), (0, 2), 1, 0, None]
+>>> [judge_cameras(RING, (0, 1, 2)), judge_cameras(RING, (1,)), judge_cameras(RING, (1, 0)), judge_hidden(RING, (0, 1)), judge_hidden(ROW, (0, 3)), judge_hidden((2, ((0,),)), (0, 1))]
+[None, ('spot', 0), ('form',), ('both', 0, 1, 0), None, ('unseen', 1)]
+>>> [judge_cases(RING, 1, ("split", 0, (("hidden", (2,)), ("hidden", (1,))))), judge_cases(RING, 1, ("hidden", (0, 1))), judge_cases(RING, 1, ("split", 0, (("hidden", (1,)), ("hidden", (1,))))), judge_cases(RING, 0, ("split", 0, ()))]
+[None, ('hidden', ()), ('hidden', (0,)), ('split', ())]
+>>> [cases_for(RING, 2), judge_cases(RING, 1, cases_for(RING, 1)), cases_for((2, ((0, 1),)), 0) in (("hidden", (0,)), ("hidden", (1,))), judge_cases(RING, 1, None), judge_verdict(RING, verdict(RING)), verdict((0, ()))]
+[None, None, True, ('form', ()), None, (0, (), ())]
+"""
+
+REDUCING = CHOOSING + """
+>>> from ridgewatch.reducing import easy_spots, fewest_for_each, most_seen, needed_cameras, smaller, spare_cameras
+>>> [spare_cameras(ROW), easy_spots(ROW), smaller(ROW), needed_cameras(ROW), spare_cameras(RING), smaller(RING)]
+[(2, 3), (1, 3), ((0, 1), (0, 2)), (1,), (), ((0, 1, 2), (0, 1, 2))]
+>>> [most_seen(ROW, 1), most_seen(ROW, 0), most_seen(ROW, 9), fewest_for_each(RING, 2), fewest_for_each(ROW, 2), fewest_for_each((0, ((),)), 3)]
+[(3, (1,)), (0, ()), (4, (0, 1)), (0, 1, 2), None, ()]
+"""
+
+KEPT = """
+>>> from ridgewatch.kept import boards, change_by, dark_now, done, further, how_many_further, idle, is_deed, is_watched, lower_by, new_board, redone, undone
+>>> RIDGE = (((0, 1), (0, 1)), ((1, 1), (3, 1)), ((2, 1), (0, 1)), ((3, 1), (3, 1)), ((4, 1), (0, 1)))
+>>> first = new_board(RIDGE, (4, 1))
+>>> [how_many_further(first), further(first), is_watched(first), len(dark_now(first)), lower_by(first, 1), lower_by(first, 2)]
+[2, ((4, 3), (4, 1)), False, 4, (3, 1), (-3, 1)]
+>>> late = done(first, ("put", (4, 3)))
+>>> [dark_now(late), further(late), idle(late), change_by(late, ("put", (4, 1))), change_by(late, ("take", (4, 3)))]
+[((3, (0, 1), (1, 1)),), ((4, 1),), (), -1, 1]
+>>> [change_by(first, ("level", (6, 1))), change_by(first, ("split", 0, (1, 2))), change_by(first, ("heap", 2, (3, 1))), is_deed(first, ("heap", 2, (4, 1)))]
+[-1, 0, 0, False]
+>>> [undone(late)["back"], redone(undone(late)) == late, len(boards(late)), is_deed(first, ("drop", 0)), is_deed(late, ("put", (4, 3)))]
+[(('put', (4, 3)),), True, 2, False, False]
+"""
+
+SURVEYS = """
+>>> from ridgewatch.surveys import combs, compared_ridges, crowded, judge_report, least_height, like_others, numbers_of, one_height, ranked, report, seen_rows, survey
+>>> RIDGE = (((0, 1), (0, 1)), ((1, 1), (3, 1)), ((2, 1), (0, 1)), ((3, 1), (3, 1)), ((4, 1), (0, 1)))
+>>> HEIGHTS = [(4, 1), (6, 1)]
+>>> [survey(RIDGE, HEIGHTS), one_height(RIDGE), least_height(RIDGE, [(4, 1), (6, 1), (5, 1)], 1), seen_rows(RIDGE, HEIGHTS, ((4, 3),))]
+[[((4, 1), 2, ((4, 3), (4, 1))), ((6, 1), 1, ((2, 1),))], ((6, 1), (2, 1)), (6, 1), [4, 4]]
+>>> told = report(RIDGE, (4, 1))
+>>> [told[2], told[3]]
+[((0, (1, 2)), (3, (1, 2))), ((0, ((2, 3), (4, 3))), (1, ((8, 3), (4, 1))))]
+>>> [judge_report(RIDGE, (4, 1), told), judge_report(RIDGE, (4, 1), (3,) + told[1:]), judge_report(RIDGE, (4, 1), told[:3] + ((),)), crowded(RIDGE, (4, 1))]
+[None, ('number',), ('tight', 0), (0, 3)]
+>>> [numbers_of(combs(2)[0], [(11, 1)]), ranked([combs(2)[0], RIDGE], (11, 1)), compared_ridges(RIDGE, combs(2)[0], (11, 1)), [word for word, ridge, height in like_others(RIDGE, (4, 1))]]
+[[2], ((1, 1), (2, 0)), -1, ['mirrored', 'shifted', 'stretched', 'plain']]
+"""
+
+DEEDS = """
+>>> from ridgewatch.deeds import deed_text, log_text, read_deed, read_log
+>>> [deed_text(("heap", 1, (-3, 2))), read_deed("split 0 1/2"), log_text((("put", (2, 1)), ("drop", 1))), read_log("take 2\\nlevel 9/2"), log_text(()), read_log("")]
+['heap 1 -3/2', ('split', 0, (1, 2)), 'put 2\\ndrop 1', (('take', (2, 1)), ('level', (9, 2))), '', ()]
+>>> place_of(lambda: read_deed("drop 1 2"))
+6
+"""
+
+HOUSE = """
+>>> from ridgewatch.house import House
+>>> PEAK = (((0, 1), (0, 1)), ((2, 1), (4, 1)), ((4, 1), (0, 1)))
+>>> house = House(PEAK, (5, 1))
+>>> [house.watched(), house.missing(), house.do(("put", (2, 1))), house.drones(), house.watched(), house.missing(), house.undo(), house.drones(), house.redo()]
+[False, 1, 1, ((2, 1),), True, 0, 0, (), 1]
+>>> [house.do(("put", (0, 1))), house.spare(), house.thin(), house.drones(), house.watch(), house.height(), house.fewest()[0]]
+[2, ((0, 1),), 1, ((2, 1),), 0, (5, 1), 1]
+"""
+
+DESK = HOUSE + """
+>>> from ridgewatch.desk import Desk
+>>> desk = Desk(PEAK, (5, 1))
+>>> [desk.say("ridge"), desk.say("height"), desk.say("drones"), desk.say("missing"), desk.say("watch"), desk.say("watched"), desk.say("undo"), desk.say("undo"), desk.say("log")]
+['ridge 0,0 2,4 4,0', '5', 'drones -', '1', '1', 'yes', '0', 'refused', 'nothing']
+>>> [desk.say("put 2"), desk.say("dark"), desk.say("fewest"), desk.say("put 2"), desk.say("take 1"), desk.say(None)]
+['1', 'nothing', '1', 'what', 'what', 'what']
+"""
+
 
 def place_of(call):
     """The place that the BadText tells which the call raises."""
@@ -263,6 +354,30 @@ class Examples(unittest.TestCase):
 
     def test_triangles(self):
         self.check("triangles", TRIANGLES)
+
+    def test_cameras(self):
+        self.check("cameras", CAMERAS)
+
+    def test_choosing(self):
+        self.check("choosing", CHOOSING)
+
+    def test_reducing(self):
+        self.check("reducing", REDUCING)
+
+    def test_kept(self):
+        self.check("kept", KEPT)
+
+    def test_surveys(self):
+        self.check("surveys", SURVEYS)
+
+    def test_deeds(self):
+        self.check("deeds", DEEDS)
+
+    def test_house(self):
+        self.check("house", HOUSE)
+
+    def test_desk(self):
+        self.check("desk", DESK)
 
     def test_readme(self):
         with open(os.path.join(os.path.dirname(os.path.abspath(__file__)), "..", "README.md"), encoding="utf-8") as file:

@@ -53,6 +53,31 @@ INTERFACE = {
                "value); walls_behind(room, spot); most_sides(room); shrunk_kernel(room, lead); deepest(room)",
     "triangles": "inner_ways(room); ears(room); triangles(room); judge_cut(room, value); next_pairs(cut); "
                  "way_through(cut, j, k); leaves_of(cut)",
+    "cameras": "colours(cut); judge_colours(cut, value); covers(cut, corners); cameras(room); fewest_covering(cut); "
+               "comb(k); tips(k); seeing_tip(k, j)",
+    "choosing": "is_choice(value); choice_of_ridge(ridge, h, drones, spots); choice_of_room(room, cameras, spots); "
+                "sees_spot(choice, spot); spots_seen(choice, cameras); unseen(choice); fewest_cameras(choice); "
+                "judge_cameras(choice, value); most_hidden(choice); judge_hidden(choice, value); "
+                "cases_for(choice, m); judge_cases(choice, m, value); verdict(choice); "
+                "judge_verdict(choice, value); gap(choice); right_ends(ridge, h, spots)",
+    "reducing": "spare_cameras(choice); easy_spots(choice); smaller(choice); needed_cameras(choice); "
+                "most_seen(choice, k); fewest_for_each(choice, r)",
+    "kept": "new_board(ridge, height); is_deed(board, value); done(board, deed); boards(board); undone(board); "
+            "redone(board); dark_now(board); is_watched(board); further(board); how_many_further(board); "
+            "idle(board); lower_by(board, i); change_by(board, deed)",
+    "surveys": "survey(ridge, heights); numbers_of(ridge, heights); least_height(ridge, heights, k); "
+               "one_height(ridge); like_others(ridge, height); report(ridge, height); "
+               "judge_report(ridge, height, value); compared_ridges(one, other, height); ranked(ridges, height); "
+               "crowded(ridge, height); seen_rows(ridge, heights, drones); combs(k)",
+    "deeds": "deed_text(deed); read_deed(text); log_text(deeds); read_log(text)",
+    "house": "House(ridge, height)",
+    "desk": "Desk(ridge, height)",
+}
+
+METHODS = {
+    "house.House": "board(); do(deed); undo(); redo(); deeds(); twin(); watch(); thin(); ridge(); height(); drones(); "
+                   "dark(); watched(); missing(); spare(); fewest()",
+    "desk.Desk": "house(); say(line)",
 }
 
 
@@ -66,6 +91,17 @@ class Interface(unittest.TestCase):
                 self.assertEqual(found.__module__, module.__name__, told)
                 if arguments or inspect.isfunction(found):
                     self.assertEqual(str(inspect.signature(found)), "(" + arguments, told)
+
+    def test_each_method_stands_in_its_class_with_its_arguments(self):
+        for place, names in METHODS.items():
+            file, _, word = place.partition(".")
+            kind = getattr(importlib.import_module("ridgewatch." + file), word)
+            for told in names.split("; "):
+                name, _, arguments = told.partition("(")
+                method = vars(kind)[name]
+                self.assertTrue(inspect.isfunction(method), told)
+                found = str(inspect.signature(method))
+                self.assertEqual(found.replace("(self, ", "(").replace("(self)", "()"), "(" + arguments, told)
 
 
 if __name__ == "__main__":

@@ -88,8 +88,14 @@ class Files(unittest.TestCase):
                 text = isinstance(node, ast.Expr) and k == 0 and isinstance(node.value, ast.Constant)
                 self.assertTrue(plain or text, (name, node.lineno))
                 if isinstance(node, ast.Assign):
-                    ast.literal_eval(node.value)
                     self.assertEqual(len(node.targets), 1)
+                    above = {part.name for part in tree.body[:k] if isinstance(part, ast.FunctionDef)}
+                    if isinstance(node.value, ast.Dict):
+                        for key, value in zip(node.value.keys, node.value.values):
+                            ast.literal_eval(key)
+                            self.assertTrue(isinstance(value, ast.Name) and value.id in above, (name, node.lineno))
+                    else:
+                        ast.literal_eval(node.value)
 
 
 class Code(unittest.TestCase):

@@ -4,7 +4,7 @@ import re
 import unittest
 from math import gcd
 
-from helpers import dice, some_fraction, spots
+from helpers import dice, number_of, some_fraction, spots
 from ridgewatch.errors import BadText
 from ridgewatch.texts import (
     drones_text, fraction_text, grounds_text, read_drones, read_fraction, read_grounds, read_spots, read_survey,
@@ -84,6 +84,13 @@ class Fractions(Case):
         self.bad(read_fraction, SIXTY + "/" + SIXTY, 0)
         self.assertEqual(read_fraction("1/" + SIXTY), (1, int(SIXTY)))
         self.bad(read_fraction, "9" * 8000, 60)
+
+    def test_as_many_digits_as_there_are(self):
+        # Python itself writes only integers of some four thousand digits.
+        for u, e in ((3 ** 12000, 1), (-3 ** 12000, 2 ** 20000), (-10 ** 6000, 10 ** 60 + 1), (10 ** 60, 10 ** 120 - 1), (10 ** 59, 10 ** 60 - 1), (-10 ** 120 - 7, 1)):
+            above, _, below = fraction_text((u, e)).partition("/")
+            self.assertEqual([above.startswith("-"), number_of(above.lstrip("-")), number_of(below or "1")], [u < 0, abs(u), e])
+            self.assertNotEqual(above.lstrip("-")[0], "0")
 
     def test_no_texts(self):
         for reader in READERS:

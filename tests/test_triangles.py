@@ -4,8 +4,8 @@ import unittest
 from itertools import combinations
 
 from helpers import (
-    NONE_AT_ALL, clipped_by_words, dice, exact, inner_by_words, is_inner_by_words, lies_on, nested, numbers, rows_of,
-    some_room, spots, turn,
+    NONE_AT_ALL, all_cuts, clipped_by_words, comb_by_words, dice, exact, inner_by_words, is_inner_by_words, lies_on,
+    nested, numbers, rows_of, some_room, spots, turn,
 )
 from ridgewatch.rooms import area, begun_at, diagonals, is_room
 from ridgewatch.triangles import ears, inner_ways, judge_cut, leaves_of, next_pairs, triangles, way_through
@@ -15,14 +15,6 @@ SQUARE = spots("0,0 1,0 1,1 0,1")
 TRIANGLE = spots("0,0 3,0 0,2")
 ARROW = spots("0,0 4,0 4,4 2,2 0,4")
 CUT = ((0, 1, 2), (0, 2, 3), (0, 3, 5), (3, 4, 5))
-
-
-def comb(k):
-    """The room with k teeth of 10.7."""
-    corners = ["0,-1", f"{3 * k - 1},-1"]
-    for j in reversed(range(k)):
-        corners += [f"{3 * j + 1},3"] + ([f"{3 * j},0", f"{3 * j - 1},0"] if j else [])
-    return spots(" ".join(corners))
 
 
 def holds_by_words(a, b, c, p):
@@ -76,19 +68,6 @@ def fault_by_words(points, cut):
             if area_of(both) > 0:
                 return ("meet", j, k)
     return None
-
-
-def all_cuts(points):
-    """All cuts, each found by what stands on the wall from the last corner to corner 0."""
-    ways = {(i, j) for i, j in combinations(range(len(points)), 2) if is_inner_by_words(points, i, j)}
-    ways |= {(i, i + 1) for i in range(len(points) - 1)} | {(0, len(points) - 1)}
-
-    def between(i, j):
-        if j - i == 1:
-            return [()]
-        return [one + other + ((i, k, j),) for k in range(i + 1, j) if (i, k) in ways and (k, j) in ways
-                for one in between(i, k) for other in between(k, j)]
-    return [tuple(sorted(cut)) for cut in between(0, len(points) - 1)]
 
 
 def cases(seed, many, corners=9, size=4):
@@ -152,7 +131,7 @@ class Triangles(unittest.TestCase):
     def test_triangles(self):
         self.assertEqual([triangles(ELL), triangles(SQUARE), triangles(TRIANGLE)], [CUT, ((0, 1, 3), (1, 2, 3)), ((0, 1, 2),)])
         self.assertEqual(triangles(ARROW), ((0, 1, 3), (0, 3, 4), (1, 2, 3)))
-        self.assertEqual(triangles(comb(1)), ((0, 1, 2),))
+        self.assertEqual(triangles(comb_by_words(1)), ((0, 1, 2),))
 
     def test_what_is_left_may_go_straight_on(self):
         # With corner 0 cut off, corner 1 lies straight between 4 and 2.
@@ -170,8 +149,8 @@ class Triangles(unittest.TestCase):
 
     def test_combs(self):
         for k in range(1, 5):
-            cut = triangles(comb(k))
-            self.assertEqual([len(cut), judge_cut(comb(k), cut), cut], [3 * k - 2, None, cut_by_words(numbers(comb(k)))])
+            cut = triangles(comb_by_words(k))
+            self.assertEqual([len(cut), judge_cut(comb_by_words(k), cut), cut], [3 * k - 2, None, cut_by_words(numbers(comb_by_words(k)))])
 
 
 class JudgeCut(unittest.TestCase):
@@ -270,11 +249,11 @@ class Tree(unittest.TestCase):
 
     def test_combs(self):
         for k in range(1, 5):
-            cut = triangles(comb(k))
+            cut = triangles(comb_by_words(k))
             self.assertEqual(leaves_of(cut), tuple(j for j in range(len(cut)) if sum(j in pair for pair in next_pairs(cut)) <= 1))
-            self.assertEqual(ears(comb(k)), tuple(range(2, 3 * k, 3)) if k > 1 else (0, 1, 2))
-        self.assertEqual([leaves_of(triangles(comb(k))) for k in (1, 2, 3)], [(0,), (2, 3), (4, 5, 6)])
-        self.assertEqual([way_through(triangles(comb(3)), 4, 5), way_through(triangles(comb(3)), 6, 5)], [(4, 3, 2, 1, 0, 5), (6, 2, 1, 0, 5)])
+            self.assertEqual(ears(comb_by_words(k)), tuple(range(2, 3 * k, 3)) if k > 1 else (0, 1, 2))
+        self.assertEqual([leaves_of(triangles(comb_by_words(k))) for k in (1, 2, 3)], [(0,), (2, 3), (4, 5, 6)])
+        self.assertEqual([way_through(triangles(comb_by_words(3)), 4, 5), way_through(triangles(comb_by_words(3)), 6, 5)], [(4, 3, 2, 1, 0, 5), (6, 2, 1, 0, 5)])
 
     def test_by_the_words(self):
         for rng, room, points in cases(7, 60, 12):
