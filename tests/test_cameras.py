@@ -88,7 +88,8 @@ class JudgeColours(unittest.TestCase):
         for value in NONE_AT_ALL + [
                 nested(30), list(right), right[:5], right + (0,), (0, 1, 2, 1, 0, 3), (0, 1, 2, 1, 0, -1),
                 (False, 1, 2, 1, 0, 2), (0, True, 2, 1, 0, 2), (0, 1, 2, 1, 0, "2"), (0, 1, 2, 1, 0, None),
-                (0, 1, 2, 1, 0, (2,)), (0, 1, 2, 1, 0, [2]), (0, 1, 2, 1, 0, (2, 1)), (0, 1, 2, 1, 0, 10 ** 59), right + right,
+                (0, 1, 2, 1, 0, (2,)), (0, 1, 2, 1, 0, [2]), (0, 1, 2, 1, 0, (2, 1)), (0, 1, 2, 1, 0, 10 ** 59),
+                right + right,
                 "012102", {0: 0, 1: 1, 2: 2, 3: 1, 4: 0, 5: 2}]:
             self.assertEqual(judge_colours(CUT, value), ("form",), value)
         self.assertEqual(judge_colours(ONE, (1, 2)), ("form",))
@@ -100,7 +101,8 @@ class JudgeColours(unittest.TestCase):
             self.assertIsNone(judge_colours(CUT, tuple(given[k] for k in colours(CUT))))
 
     def test_alike(self):
-        for value, k in [((0, 1, 2, 1, 0, 0), 2), ((0, 0, 2, 1, 0, 2), 0), ((0, 1, 1, 1, 0, 2), 0), ((0, 1, 0, 1, 0, 2), 0),
+        for value, k in [((0, 1, 2, 1, 0, 0), 2), ((0, 0, 2, 1, 0, 2), 0), ((0, 1, 1, 1, 0, 2), 0),
+                         ((0, 1, 0, 1, 0, 2), 0),
                          ((0, 1, 2, 2, 0, 2), 1), ((0, 1, 2, 1, 1, 2), 3), ((0, 1, 2, 1, 2, 2), 3), ((0,) * 6, 0)]:
             self.assertEqual(judge_colours(CUT, value), ("alike", k), value)
 
@@ -112,10 +114,13 @@ class JudgeColours(unittest.TestCase):
 
 class Covers(unittest.TestCase):
     def test_covers(self):
-        for corners, outcome in [((), False), ((0,), False), ((3,), False), ((0, 3), True), ((3, 0), True), ((4, 1), False),
-                                 ((4, 0, 4), True), ((5, 2), True), ((2, 5, 2, 5), True), ((1, 1), False), ((5, 4, 3, 2, 1, 0), True)]:
+        for corners, outcome in [((), False), ((0,), False), ((3,), False), ((0, 3), True), ((3, 0), True),
+                                 ((4, 1), False),
+                                 ((4, 0, 4), True), ((5, 2), True), ((2, 5, 2, 5), True), ((1, 1), False),
+                                 ((5, 4, 3, 2, 1, 0), True)]:
             self.assertIs(covers(CUT, corners), outcome, corners)
-        self.assertEqual([covers(ONE, ()), covers(ONE, (1,)), covers(FAN, (0,)), covers(FAN, (1, 3, 5))], [False, True, True, True])
+        self.assertEqual([covers(ONE, ()), covers(ONE, (1,)), covers(FAN, (0,)), covers(FAN, (1, 3, 5))],
+                         [False, True, True, True])
 
     def test_by_the_words(self):
         for rng, room, points, some in cuts(3, 25, 9):
@@ -157,7 +162,8 @@ class Cameras(unittest.TestCase):
 
 class FewestCovering(unittest.TestCase):
     def test_fewest_covering(self):
-        self.assertEqual([fewest_covering(cut) for cut in (ONE, CUT, FAN, LAST_FAN, STAR)], [(0,), (0, 3), (0,), (5,), (0, 2)])
+        self.assertEqual([fewest_covering(cut) for cut in (ONE, CUT, FAN, LAST_FAN, STAR)],
+                         [(0,), (0, 3), (0,), (5,), (0, 2)])
         self.assertEqual(fewest_covering(((0, 1, 3), (1, 2, 3))), (1,))
 
     def test_by_the_words(self):

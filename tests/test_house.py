@@ -29,7 +29,8 @@ def take(text):
 
 def shown(house):
     """All that a house shows."""
-    return (house.board(), house.deeds(), house.ridge(), house.height(), house.drones(), house.dark(), house.watched(), house.missing(), house.spare(), house.fewest())
+    return (house.board(), house.deeds(), house.ridge(), house.height(), house.drones(), house.dark(), house.watched(),
+            house.missing(), house.spare(), house.fewest())
 
 
 def some_houses(seed, many):
@@ -66,8 +67,10 @@ class Deeds(unittest.TestCase):
         house.do(put("3"))
         house.undo()
         before = shown(house)
-        for value in NONE_AT_ALL + [nested(30), put("2"), put("5"), take("3"), ("drop", 0), ("drop", 4), ("level", (4, 1)), ("level", (3, 1)), ("heap", 1, (1, 1)), ("heap", 0, (0, 1)),
-                                    ("split", 4, (1, 2)), ("undo",), "put 1", ["put", (1, 1)], ("put", [1, 1]), {"put": (1, 1)}, ("put", 1), ("put", (True, 1))]:
+        for value in NONE_AT_ALL + [nested(30), put("2"), put("5"), take("3"), ("drop", 0), ("drop", 4),
+                                    ("level", (4, 1)), ("level", (3, 1)), ("heap", 1, (1, 1)), ("heap", 0, (0, 1)),
+                                    ("split", 4, (1, 2)), ("undo",), "put 1", ["put", (1, 1)], ("put", [1, 1]),
+                                    {"put": (1, 1)}, ("put", 1), ("put", (True, 1))]:
             with self.assertRaises(BadDeed):
                 house.do(value)
             self.assertEqual(shown(house), before)
@@ -163,13 +166,15 @@ class Twins(unittest.TestCase):
         house = House(PEAK, (5, 1))
         other = house.twin()
         other.watch()
-        self.assertEqual([house.deeds(), house.watched(), other.watched(), other.twin().deeds()], [(), False, True, other.deeds()])
+        self.assertEqual([house.deeds(), house.watched(), other.watched(), other.twin().deeds()],
+                         [(), False, True, other.deeds()])
 
 
 class Watched(unittest.TestCase):
     def test_without_drones(self):
         house = House(RIDGE, FOUR)
-        self.assertEqual([house.watch(), house.deeds(), house.drones(), house.watched()], [2, (put("4/3"), put("4")), places("4/3 4"), True])
+        self.assertEqual([house.watch(), house.deeds(), house.drones(), house.watched()],
+                         [2, (put("4/3"), put("4")), places("4/3 4"), True])
         self.assertEqual([house.undo(), house.missing(), house.redo(), house.missing()], [1, 1, 2, 0])
 
     def test_a_watched_house(self):
@@ -203,7 +208,8 @@ class Watched(unittest.TestCase):
         for x in places("4 2 0"):
             house.do(("put", x))
         # Without 0 the one at 2 is needed, though at first each could go.
-        self.assertEqual([house.spare(), house.thin(), house.deeds()[3:], house.drones()], [places("0 2 4"), 2, (take("0"), take("4")), places("2")])
+        self.assertEqual([house.spare(), house.thin(), house.deeds()[3:], house.drones()],
+                         [places("0 2 4"), 2, (take("0"), take("4")), places("2")])
 
     def test_thin_of_a_house_without_drones(self):
         house = House(PEAK, (5, 1))
@@ -217,21 +223,26 @@ class Watched(unittest.TestCase):
         for rng, house in some_houses(1, 40):
             ridge, h, drones = house.ridge(), house.height(), house.drones()
             dark = dark_by_words(ridge, h, drones, whole(ridge))
-            self.assertEqual([house.dark(), house.watched(), house.missing()], [dark, not dark, len(drones_by_words(ridge, h, dark))])
+            self.assertEqual([house.dark(), house.watched(), house.missing()],
+                             [dark, not dark, len(drones_by_words(ridge, h, dark))])
             other, many = house.twin(), len(house.deeds())
             places_put = drones_by_words(ridge, h, dark)
-            self.assertEqual([other.watch(), other.deeds()[many:]], [len(places_put), tuple(("put", x) for x in places_put)])
-            self.assertEqual([other.watched(), other.missing(), other.drones()], [True, 0, tuple(sorted(drones + places_put, key=exact))])
+            self.assertEqual([other.watch(), other.deeds()[many:]],
+                             [len(places_put), tuple(("put", x) for x in places_put)])
+            self.assertEqual([other.watched(), other.missing(), other.drones()],
+                             [True, 0, tuple(sorted(drones + places_put, key=exact))])
             left, taken = list(drones), []
             while True:
-                idle = [x for x in left if dark_by_words(ridge, h, tuple(y for y in left if y != x), whole(ridge)) == dark]
+                idle = [x for x in left
+                        if dark_by_words(ridge, h, tuple(y for y in left if y != x), whole(ridge)) == dark]
                 if not taken:
                     self.assertEqual(house.spare(), tuple(idle))
                 if not idle:
                     break
                 left.remove(idle[0])
                 taken.append(("take", idle[0]))
-            self.assertEqual([house.thin(), house.deeds()[many:], house.drones(), house.dark()], [len(taken), tuple(taken), tuple(left), dark])
+            self.assertEqual([house.thin(), house.deeds()[many:], house.drones(), house.dark()],
+                             [len(taken), tuple(taken), tuple(left), dark])
             thinned += len(taken) > 1
             watched += len(places_put) > 1
         self.assertGreater(min(thinned, watched), 1)
@@ -244,12 +255,14 @@ class Watched(unittest.TestCase):
         house.do(("level", (6, 1)))
         self.assertEqual(house.fewest()[:2], (1, places("2")))
         for _, house in some_houses(2, 15):
-            drones = drones_by_words(house.ridge(), house.height(), whole(house.ridge()))
-            self.assertEqual(house.fewest(), (len(drones), drones, paper_by_words(house.ridge(), house.height(), whole(house.ridge()))))
+            ridge, h = house.ridge(), house.height()
+            drones = drones_by_words(ridge, h, whole(ridge))
+            self.assertEqual(house.fewest(), (len(drones), drones, paper_by_words(ridge, h, whole(ridge))))
 
     def test_level_ground(self):
         house = House(LEVEL, (8, 1))
-        self.assertEqual([house.dark(), house.missing(), house.watch(), house.drones(), house.dark()], [parts("0:0:1 1:0:1"), 1, 1, places("5"), ()])
+        self.assertEqual([house.dark(), house.missing(), house.watch(), house.drones(), house.dark()],
+                         [parts("0:0:1 1:0:1"), 1, 1, places("5"), ()])
 
 
 if __name__ == "__main__":

@@ -88,7 +88,8 @@ def some_deed(rng, board):
     word = rng.choice(("heap", "heap", "split", "drop", "put", "put", "put", "take", "level"))
     if word == "heap":
         room = exact(board["height"]) - max(y for _, y in numbers(board["ridge"]))
-        return (word, rng.randint(0, corners), told(rng.choice((room, room / 2, Fraction(-1), Fraction(1, 2), Fraction(0), Fraction(rng.randint(-6, 6), 2)))))
+        dy = rng.choice((room, room / 2, Fraction(-1), Fraction(1, 2), Fraction(0), Fraction(rng.randint(-6, 6), 2)))
+        return (word, rng.randint(0, corners), told(dy))
     if word == "split":
         return (word, rng.randint(0, corners - 1), rng.choice(places("0 1 1/2 1/3 3/4 5/4")))
     if word == "drop":
@@ -118,14 +119,16 @@ def some_boards(seed, many, corners=8, drones=4):
 
 class NewBoards(unittest.TestCase):
     def test_new_board(self):
-        self.assertEqual(FIRST, {"ridge": RIDGE, "height": FOUR, "drones": (), "first": (RIDGE, FOUR), "log": (), "back": ()})
+        self.assertEqual(FIRST, {"ridge": RIDGE, "height": FOUR, "drones": (), "first": (RIDGE, FOUR), "log": (),
+                                 "back": ()})
         self.assertEqual(sorted(FIRST), sorted(FIELDS))
 
     def test_fields_behind_deeds(self):
         board = behind(FIRST, "put 3", "put 1/2", "level 5", "heap 1 1", "split 0 1/2", "take 3")
         self.assertEqual(sorted(board), sorted(FIELDS))
         self.assertEqual(board["first"], (RIDGE, FOUR))
-        self.assertEqual(board["log"], tuple(map(deed, ("put 3", "put 1/2", "level 5", "heap 1 1", "split 0 1/2", "take 3"))))
+        self.assertEqual(board["log"], tuple(map(deed, ("put 3", "put 1/2", "level 5", "heap 1 1", "split 0 1/2",
+                                                        "take 3"))))
         self.assertEqual([board["drones"], board["height"], board["back"]], [places("1/2"), (5, 1), ()])
         self.assertEqual(board["ridge"], spots("0,0 1/2,2 1,4 2,0 3,3 4,0"))
 
@@ -141,7 +144,8 @@ class Deeds(unittest.TestCase):
                 done(board, deed(text))
 
     def test_heap(self):
-        self.check(FIRST, "heap 0 1, heap 0 7/2, heap 1 99/100, heap 1 -3, heap 4 -99, heap 2 3, heap 3 1/2, heap 4 399/100",
+        self.check(FIRST,
+                   "heap 0 1, heap 0 7/2, heap 1 99/100, heap 1 -3, heap 4 -99, heap 2 3, heap 3 1/2, heap 4 399/100",
                    "heap 0 4, heap 0 9/2, heap 1 1, heap 1 2, heap 5 1, heap 6 -1, heap -1 1, heap 2 0, heap 4 4")
 
     def test_split(self):
@@ -160,32 +164,46 @@ class Deeds(unittest.TestCase):
         self.assertEqual(behind(board, "put 5/2", "put 1/3", "put 1")["drones"], places("1/3 1/2 1 2 5/2"))
 
     def test_take(self):
-        self.check(behind(FIRST, "put 2", "put 1/2", "put 4"), "take 2, take 1/2, take 4", "take 0, take 1, take 5, take 3/2")
+        self.check(behind(FIRST, "put 2", "put 1/2", "put 4"), "take 2, take 1/2, take 4",
+                   "take 0, take 1, take 5, take 3/2")
         self.assertIs(is_deed(FIRST, deed("take 2")), False)
         self.assertEqual(behind(FIRST, "put 2", "put 1", "take 2")["drones"], places("1"))
 
     def test_level(self):
-        self.check(FIRST, "level 5, level 301/100, level 7/2, level 400", "level 4, level 3, level 2, level -5, level 0")
+        self.check(FIRST, "level 5, level 301/100, level 7/2, level 400",
+                   "level 4, level 3, level 2, level -5, level 0")
         self.assertIs(is_deed(behind(FIRST, "level 5"), deed("level 4")), True)
+        # A height may have the worth of a drone's place.
+        self.assertEqual(shown(behind(FIRST, "put 7/2", "level 7/2")), (RIDGE, frac("7/2"), places("7/2")))
 
     def test_the_height_bars_heaps(self):
         high = behind(FIRST, "level 9")
-        self.assertEqual([is_deed(high, deed(text)) for text in ("heap 1 1", "heap 1 59/10", "heap 1 6")], [True, True, False])
+        self.assertEqual([is_deed(high, deed(text)) for text in ("heap 1 1", "heap 1 59/10", "heap 1 6")],
+                         [True, True, False])
         tall = behind(high, "heap 1 5")
-        self.assertEqual([is_deed(tall, deed(text)) for text in ("level 8", "level 17/2", "level 9")], [False, True, False])
+        self.assertEqual([is_deed(tall, deed(text)) for text in ("level 8", "level 17/2", "level 9")],
+                         [False, True, False])
         self.assertIs(is_deed(behind(tall, "drop 1"), deed("level 4")), True)
 
     def test_any_value(self):
         board = behind(FIRST, "put 1")
         wrong = NONE_AT_ALL + [
-            nested(30), ("heap",), ("heap", 1), ("heap", 1, (1, 2), 0), ("heap", (1, 2), 1), ("heap", "1", (1, 2)), ("heap", True, (1, 2)), ("heap", 1, 1),
-            ("heap", 1, (1, -2)), ("heap", 1, (2, 4)), ("heap", 1, (True, 2)), ("heap", 1, (False, 1)), ("heap", 1, None), ("heap", None, (1, 2)), ("heap", 1, [1, 2]),
-            ["heap", 1, (1, 2)], ("split", 1), ("split", True, (1, 2)), ("split", False, (1, 2)), ("split", 1, (2, 4)), ("split", 1, 0), ("split", 1, (1, 2), 1), ("split", [1], (1, 2)),
-            ("drop",), ("drop", True), ("drop", "1"), ("drop", (1, 1)), ("drop", 1, (1, 2)), ("drop", [1]), ["drop", 1], ("drop", None), ("drop", 10 ** 59),
-            ("put",), ("put", 2), ("put", (4, 2)), ("put", (2, True)), ("put", [2, 1]), ("put", None), ("put", (2, 1), (2, 1)), ("put", {}), ("put", ((2, 1),)),
-            ("take",), ("take", 1), ("take", (True, 1)), ("take", (1, True)), ("take", [1, 1]), ("take", (1, 1), 0), ("take", (2, 2)), ("take", {}),
-            ("level",), ("level", 5), ("level", (10, 2)), ("level", (5, True)), ("level", [5, 1]), ("level", (5, 1), ()), ("Level", (5, 1)), ("level ", (5, 1)),
-            ("", (5, 1)), (None, (5, 1)), (("put",), (2, 1)), (["put"], (2, 1)), ({}, (2, 1)), (0, 1, (1, 2)), ("undo",), "put", "put 2", ("put 2",), {"put": (2, 1)},
+            nested(30), ("heap",), ("heap", 1), ("heap", 1, (1, 2), 0), ("heap", (1, 2), 1), ("heap", "1", (1, 2)),
+            ("heap", True, (1, 2)), ("heap", 1, 1),
+            ("heap", 1, (1, -2)), ("heap", 1, (2, 4)), ("heap", 1, (True, 2)), ("heap", 1, (False, 1)),
+            ("heap", 1, None), ("heap", None, (1, 2)), ("heap", 1, [1, 2]),
+            ["heap", 1, (1, 2)], ("split", 1), ("split", True, (1, 2)), ("split", False, (1, 2)), ("split", 1, (2, 4)),
+            ("split", 1, 0), ("split", 1, (1, 2), 1), ("split", [1], (1, 2)),
+            ("drop",), ("drop", True), ("drop", "1"), ("drop", (1, 1)), ("drop", 1, (1, 2)), ("drop", [1]), ["drop", 1],
+            ("drop", None), ("drop", 10 ** 59),
+            ("put",), ("put", 2), ("put", (4, 2)), ("put", (2, True)), ("put", [2, 1]), ("put", None),
+            ("put", (2, 1), (2, 1)), ("put", {}), ("put", ((2, 1),)),
+            ("take",), ("take", 1), ("take", (True, 1)), ("take", (1, True)), ("take", [1, 1]), ("take", (1, 1), 0),
+            ("take", (2, 2)), ("take", {}),
+            ("level",), ("level", 5), ("level", (10, 2)), ("level", (5, True)), ("level", [5, 1]),
+            ("level", (5, 1), ()), ("Level", (5, 1)), ("level ", (5, 1)),
+            ("", (5, 1)), (None, (5, 1)), (("put",), (2, 1)), (["put"], (2, 1)), ({}, (2, 1)), (0, 1, (1, 2)),
+            ("undo",), "put", "put 2", ("put 2",), {"put": (2, 1)},
         ]
         for value in wrong:
             self.assertIs(is_deed(board, value), False, value)
@@ -208,11 +226,13 @@ class Deeds(unittest.TestCase):
                 if right:
                     after = done(board, value)
                     self.assertEqual(shown(after), shown_behind(board, value))
-                    self.assertEqual([after["log"], after["back"], after["first"]], [board["log"] + (value,), (), (ridge, h)])
+                    self.assertEqual([after["log"], after["back"], after["first"]],
+                                     [board["log"] + (value,), (), (ridge, h)])
                     # The board that was passed is as it was.
                     self.assertEqual(board, before)
                     board = after
-        self.assertGreater(min(kinds.get((word, right), 0) for word in ("heap", "split", "drop", "put", "take", "level") for right in (True, False)), 5, kinds)
+        words = ("heap", "split", "drop", "put", "take", "level")
+        self.assertGreater(min(kinds.get((word, right), 0) for word in words for right in (True, False)), 5, kinds)
 
 
 class Undone(unittest.TestCase):
@@ -222,7 +242,8 @@ class Undone(unittest.TestCase):
         self.assertEqual(shown(one), shown(behind(FIRST, "put 4/3", "level 5")))
         self.assertEqual([one["log"], one["back"], one["first"]], [late["log"][:2], (deed("drop 2"),), (RIDGE, FOUR)])
         two = undone(one)
-        self.assertEqual([shown(two), two["log"], two["back"]], [(RIDGE, FOUR, places("4/3")), (deed("put 4/3"),), (deed("drop 2"), deed("level 5"))])
+        self.assertEqual([shown(two), two["log"]], [(RIDGE, FOUR, places("4/3")), (deed("put 4/3"),)])
+        self.assertEqual(two["back"], (deed("drop 2"), deed("level 5")))
         self.assertEqual([redone(two), redone(redone(two)), redone(one)], [one, late, late])
         self.assertEqual(undone(redone(undone(two))), undone(two))
 
@@ -279,7 +300,10 @@ class Undone(unittest.TestCase):
         row = undone(late)
         kept, before = dict(late), dict(row)
         for board in (late, row):
-            boards(board), undone(board), done(board, deed("put 2")), dark_now(board), further(board), idle(board), change_by(board, deed("put 2"))
+            for look in (boards, undone, dark_now, further, idle):
+                look(board)
+            for act in (done, change_by):
+                act(board, deed("put 2"))
         redone(row)
         self.assertEqual([late, row], [kept, before])
         found = boards(late)
@@ -294,21 +318,24 @@ class Watched(unittest.TestCase):
 
     def test_drones_that_see_all(self):
         board = behind(FIRST, "put 4/3", "put 4")
-        self.assertEqual([dark_now(board), is_watched(board), further(board), how_many_further(board), idle(board)], [(), True, (), 0, ()])
+        self.assertEqual([dark_now(board), is_watched(board), further(board), how_many_further(board), idle(board)],
+                         [(), True, (), 0, ()])
         more = behind(board, "put 2", "put 0")
         self.assertEqual([is_watched(more), further(more), idle(more)], [True, (), places("0 4/3 2")])
 
     def test_further_is_for_the_dark_parts(self):
         board = behind(FIRST, "put 4/3")
         self.assertEqual([dark_now(board), further(board), idle(board)], [parts("3:0:1"), places("4"), ()])
-        self.assertEqual([further(behind(FIRST, "put 4")), how_many_further(behind(FIRST, "put 2"))], [places("4/3"), 2])
+        self.assertEqual([further(behind(FIRST, "put 4")), how_many_further(behind(FIRST, "put 2"))],
+                         [places("4/3"), 2])
 
     def test_single_corners_are_no_parts(self):
         # The drone at 4 alone sees corner 0, but nothing else that the one at 9 does not see.
         board = new_board(PIT, (5, 1))
         for x in places("4 9"):
             board = done(board, ("put", x))
-        self.assertEqual([dark_now(board), dark_now(done(board, deed("take 4"))), idle(board)], [dark_now(done(board, deed("take 9"))), dark_now(board), places("4 9")])
+        self.assertEqual([dark_now(board), dark_now(done(board, deed("take 4"))), idle(board)],
+                         [dark_now(done(board, deed("take 9"))), dark_now(board), places("4 9")])
 
     def test_by_the_words(self):
         kinds = {}
@@ -318,7 +345,9 @@ class Watched(unittest.TestCase):
             found = further(board)
             self.assertEqual([dark_now(board), is_watched(board)], [dark, not dark])
             self.assertEqual([found, how_many_further(board)], [drones_by_words(ridge, h, dark), len(found)])
-            self.assertEqual(idle(board), tuple(x for x in drones if dark_by_words(ridge, h, tuple(y for y in drones if y != x), whole(ridge)) == dark))
+            rest = [tuple(y for y in drones if y != x) for x in drones]
+            self.assertEqual(idle(board), tuple(
+                x for x, left in zip(drones, rest) if dark_by_words(ridge, h, left, whole(ridge)) == dark))
             self.assertIs(is_watched(board), how_many_further(board) == 0)
             if not drones:
                 self.assertEqual([further(board), how_many_further(board)], [cover(ridge, h), fewest(ridge, h)])
@@ -355,14 +384,17 @@ class Changed(unittest.TestCase):
 
     def test_change_by(self):
         late = behind(FIRST, "put 4/3")
-        for board, text, change in [(late, "put 4", -1), (late, "put 2", 0), (late, "take 4/3", 1), (FIRST, "level 6", -1), (FIRST, "level 31/10", 0), (FIRST, "split 0 1/2", 0),
-                                    (FIRST, "heap 2 3", 0), (FIRST, "drop 2", 0), (FIRST, "drop 1", -1), (behind(FIRST, "level 6"), "level 4", 1), (FIRST, "heap 0 7/2", -1)]:
+        for board, text, change in [(late, "put 4", -1), (late, "put 2", 0), (late, "take 4/3", 1),
+                                    (FIRST, "level 6", -1), (FIRST, "level 31/10", 0), (FIRST, "split 0 1/2", 0),
+                                    (FIRST, "heap 2 3", 0), (FIRST, "drop 2", 0), (FIRST, "drop 1", -1),
+                                    (behind(FIRST, "level 6"), "level 4", 1), (FIRST, "heap 0 7/2", -1)]:
             self.assertEqual(change_by(board, deed(text)), change, text)
 
     def test_bounds(self):
         seen = {}
         for rng, board in some_boards(6, 60, corners=7, drones=3):
-            values = [some_deed(rng, board) for _ in range(8)] + [("put", x) for x in further(board)[:1]] + [("take", x) for x in board["drones"][:2]]
+            values = [some_deed(rng, board) for _ in range(8)]
+            values += [("put", x) for x in further(board)[:1]] + [("take", x) for x in board["drones"][:2]]
             values.append(("level", told(exact(board["height"]) + 3)))
             for value in values:
                 if is_deed(board, value):

@@ -59,22 +59,27 @@ def some_choices(seed, many):
 
 class Spare(unittest.TestCase):
     def test_spare_cameras(self):
-        for choice, expected in [(ROW, (2, 3)), (RING, ()), (NOTHING, ()), ((3, ((), ())), (1,)), ((2, ((), (0,))), (0,)), ((0, ((), (), ())), (1, 2)),
-                                 ((2, ((0, 1), (0, 1), (0, 1))), (1, 2)), ((3, ((0,), (0, 1), (0, 1, 2))), (0, 1)), ((3, ((0, 1), (1,), (1, 2))), (1,)),
+        for choice, expected in [(ROW, (2, 3)), (RING, ()), (NOTHING, ()), ((3, ((), ())), (1,)),
+                                 ((2, ((), (0,))), (0,)), ((0, ((), (), ())), (1, 2)),
+                                 ((2, ((0, 1), (0, 1), (0, 1))), (1, 2)), ((3, ((0,), (0, 1), (0, 1, 2))), (0, 1)),
+                                 ((3, ((0, 1), (1,), (1, 2))), (1,)),
                                  ((3, ((1,), (0, 1), (1,))), (0, 2))]:
             self.assertEqual(spare_cameras(choice), expected, choice)
 
     def test_easy_spots(self):
-        for choice, expected in [(ROW, (1, 3)), (RING, ()), (NOTHING, ()), ((3, ()), ()), ((3, ((0, 1, 2),)), (1, 2)), ((2, ((0, 1), (0, 1))), (1,)),
+        for choice, expected in [(ROW, (1, 3)), (RING, ()), (NOTHING, ()), ((3, ()), ()), ((3, ((0, 1, 2),)), (1, 2)),
+                                 ((2, ((0, 1), (0, 1))), (1,)),
                                  ((3, ((0, 1), (1, 2), (1,))), (1,)), ((3, ((1, 2), (2,))), (2,)),
                                  # A spot that nobody sees is not easy, and makes none easy.
-                                 ((3, ((1,), (1, 2))), (1,)), ((2, ((1,),)), ()), ((4, ((0,), (0, 2, 3), (2, 3))), (3,))]:
+                                 ((3, ((1,), (1, 2))), (1,)), ((2, ((1,),)), ()),
+                                 ((4, ((0,), (0, 2, 3), (2, 3))), (3,))]:
             self.assertEqual(easy_spots(choice), expected, choice)
 
     def test_chains(self):
         lots = tuple(tuple(range(k + 1)) for k in range(6))
         self.assertEqual([spare_cameras((6, lots)), easy_spots((6, lots))], [(0, 1, 2, 3, 4), (0, 1, 2, 3, 4)])
-        self.assertEqual([spare_cameras((6, lots[::-1])), easy_spots((6, lots[::-1]))], [(1, 2, 3, 4, 5), (0, 1, 2, 3, 4)])
+        self.assertEqual([spare_cameras((6, lots[::-1])), easy_spots((6, lots[::-1]))],
+                         [(1, 2, 3, 4, 5), (0, 1, 2, 3, 4)])
 
     def test_by_the_words(self):
         for _, choice in some_choices(1, 200):
@@ -91,8 +96,10 @@ class Spare(unittest.TestCase):
 
 class Smaller(unittest.TestCase):
     def test_smaller(self):
-        for choice, expected in [(ROW, ((0, 1), (0, 2))), (RING, ((0, 1, 2), (0, 1, 2))), (NOTHING, ((), ())), ((0, ((), ())), ((0,), ())), ((3, ()), ((), (0, 1, 2))),
-                                 ((2, ((0, 1), (0, 1))), ((0,), (0,))), ((3, ((0,), (0, 1))), ((1,), (1, 2))), ((3, ((0, 1, 2),)), ((0,), (0,)))]:
+        for choice, expected in [(ROW, ((0, 1), (0, 2))), (RING, ((0, 1, 2), (0, 1, 2))), (NOTHING, ((), ())),
+                                 ((0, ((), ())), ((0,), ())), ((3, ()), ((), (0, 1, 2))),
+                                 ((2, ((0, 1), (0, 1))), ((0,), (0,))), ((3, ((0,), (0, 1))), ((1,), (1, 2))),
+                                 ((3, ((0, 1, 2),)), ((0,), (0,)))]:
             self.assertEqual(smaller(choice), expected, choice)
 
     def test_leaving_out_makes_others_spare_or_easy(self):
@@ -131,34 +138,42 @@ class Smaller(unittest.TestCase):
 
 class Others(unittest.TestCase):
     def test_needed_cameras(self):
-        for choice, expected in [(ROW, (1,)), (RING, ()), (NOTHING, ()), ((3, ()), ()), ((2, ((0,), (1,))), (0, 1)), ((3, ((0, 1, 2), (0,), (0,))), (0,)), ((1, ((), ())), ()),
+        for choice, expected in [(ROW, (1,)), (RING, ()), (NOTHING, ()), ((3, ()), ()), ((2, ((0,), (1,))), (0, 1)),
+                                 ((3, ((0, 1, 2), (0,), (0,))), (0,)), ((1, ((), ())), ()),
                                  ((3, ((0,), (0, 1, 2), (0,), ())), (1,))]:
             self.assertEqual(needed_cameras(choice), expected)
 
     def test_needed_cameras_by_the_words(self):
         for _, choice in some_choices(5, 100):
             watchers = lots_and_watchers(choice, range(len(choice[1])), range(choice[0]))[1]
-            self.assertEqual(needed_cameras(choice), tuple(sorted({min(lot) for lot in watchers.values() if len(lot) == 1})))
+            self.assertEqual(needed_cameras(choice),
+                             tuple(sorted({min(lot) for lot in watchers.values() if len(lot) == 1})))
 
     def test_most_seen(self):
-        for choice, k, expected in [(ROW, 1, (3, (1,))), (ROW, 0, (0, ())), (ROW, 2, (4, (0, 1))), (ROW, 9, (4, (0, 1))), (RING, 1, (2, (0,))), (RING, 2, (3, (0, 1))),
-                                    (NOTHING, 3, (0, ())), ((3, ()), 3, (0, ())), ((3, ((), ())), 2, (0, ())), ((3, ((), (2,))), 2, (1, (1,))),
+        for choice, k, expected in [(ROW, 1, (3, (1,))), (ROW, 0, (0, ())), (ROW, 2, (4, (0, 1))),
+                                    (ROW, 9, (4, (0, 1))), (RING, 1, (2, (0,))), (RING, 2, (3, (0, 1))),
+                                    (NOTHING, 3, (0, ())), ((3, ()), 3, (0, ())), ((3, ((), ())), 2, (0, ())),
+                                    ((3, ((), (2,))), 2, (1, (1,))),
                                     # One camera sees as many as any two do.
-                                    ((4, ((0,), (1,), (0, 1), (0, 1))), 2, (2, (2,))), ((4, ((0, 1), (2,), (1, 2), (3,), (0, 3))), 2, (4, (2, 4)))]:
+                                    ((4, ((0,), (1,), (0, 1), (0, 1))), 2, (2, (2,))),
+                                    ((4, ((0, 1), (2,), (1, 2), (3,), (0, 3))), 2, (4, (2, 4)))]:
             self.assertEqual(most_seen(choice, k), expected)
 
     def test_most_seen_by_the_words(self):
         for rng, choice in some_choices(6, 120):
             k = rng.randint(0, 8)
             best = (0, ())
-            for some in sorted((some for many in range(k + 1) for some in combinations(range(len(choice[1])), many)), key=lambda some: (len(some), some)):
+            for some in sorted((some for many in range(k + 1) for some in combinations(range(len(choice[1])), many)),
+                               key=lambda some: (len(some), some)):
                 seen = len({j for c in some for j in choice[1][c]})
                 best = max(best, (seen, some), key=lambda pair: pair[0])
             self.assertEqual(most_seen(choice, k), best)
 
     def test_fewest_for_each(self):
-        for choice, r, expected in [(RING, 1, (0, 1)), (RING, 2, (0, 1, 2)), (RING, 3, None), (ROW, 1, (0, 1)), (ROW, 2, None), ((0, ((),)), 3, ()), (NOTHING, 12, ()),
-                                    ((1, ()), 1, None), ((2, ((0, 1), (0,), (1,), (0, 1))), 2, (0, 3)), ((2, ((0, 1), (0,), (1,), (0, 1))), 3, (0, 1, 2, 3)),
+        for choice, r, expected in [(RING, 1, (0, 1)), (RING, 2, (0, 1, 2)), (RING, 3, None), (ROW, 1, (0, 1)),
+                                    (ROW, 2, None), ((0, ((),)), 3, ()), (NOTHING, 12, ()),
+                                    ((1, ()), 1, None), ((2, ((0, 1), (0,), (1,), (0, 1))), 2, (0, 3)),
+                                    ((2, ((0, 1), (0,), (1,), (0, 1))), 3, (0, 1, 2, 3)),
                                     ((2, ((0, 1), (0,), (1,), (0, 1))), 4, None), ((1, ((0,), (), (0,))), 2, (0, 2))]:
             self.assertEqual(fewest_for_each(choice, r), expected)
 

@@ -45,14 +45,19 @@ def some_cases(seed, many, corners=8):
 def heights_above(rng, ridge, many):
     """So many heights above the ridge, in any sequence."""
     top = exact(top_of(ridge))
-    return [told(top + rng.choice((Fraction(1, 9), Fraction(1, 2), Fraction(rng.randint(1, 40), rng.randint(1, 4))))) for _ in range(many)]
+    found = []
+    for _ in range(many):
+        more = rng.choice((Fraction(1, 9), Fraction(1, 2), Fraction(rng.randint(1, 40), rng.randint(1, 4))))
+        found.append(told(top + more))
+    return found
 
 
 class Surveys(unittest.TestCase):
     def test_survey(self):
         heights = places("6 4 5 4")
         self.assertEqual(survey(RIDGE, list(heights)), [
-            ((6, 1), 1, places("2")), (FOUR, 2, places("4/3 4")), ((5, 1), 2, places("5/3 4")), (FOUR, 2, places("4/3 4"))])
+            ((6, 1), 1, places("2")), (FOUR, 2, places("4/3 4")), ((5, 1), 2, places("5/3 4")),
+            (FOUR, 2, places("4/3 4"))])
         self.assertEqual(numbers_of(RIDGE, list(heights)), [1, 2, 2, 2])
         self.assertEqual([survey(RIDGE, []), numbers_of(RIDGE, [])], [[], []])
         self.assertEqual([survey(RIDGE, heights), numbers_of(RIDGE, ())], [survey(RIDGE, list(heights)), []])
@@ -61,7 +66,8 @@ class Surveys(unittest.TestCase):
         for rng, ridge, h in some_cases(1, 25):
             heights = heights_above(rng, ridge, rng.randint(0, 4)) + [h]
             covers = [drones_by_words(ridge, height, whole(ridge)) for height in heights]
-            self.assertEqual(survey(ridge, heights), [(height, len(drones), drones) for height, drones in zip(heights, covers)])
+            rows = [(height, len(drones), drones) for height, drones in zip(heights, covers)]
+            self.assertEqual(survey(ridge, heights), rows)
             self.assertEqual(numbers_of(ridge, heights), [len(drones) for drones in covers])
 
     def test_higher_no_more(self):
@@ -79,7 +85,8 @@ class Surveys(unittest.TestCase):
         self.assertGreater(less, 1)
 
     def test_least_height(self):
-        for heights, k, expected in [("4 6 5", 1, "6"), ("4 6 5", 2, "4"), ("6 4 5 6", 1, "6"), ("5 4", 2, "4"), ("9 13/2 6 7", 1, "6"), ("13/2 20/3 19/3", 1, "19/3"),
+        for heights, k, expected in [("4 6 5", 1, "6"), ("4 6 5", 2, "4"), ("6 4 5 6", 1, "6"), ("5 4", 2, "4"),
+                                     ("9 13/2 6 7", 1, "6"), ("13/2 20/3 19/3", 1, "19/3"),
                                      ("4 5 6", 9, "4")]:
             self.assertEqual(least_height(RIDGE, list(places(heights)), k), frac(expected))
         self.assertIsNone(least_height(RIDGE, list(places("4 5 59/10")), 1))
@@ -99,9 +106,13 @@ class Surveys(unittest.TestCase):
 
 class OneHeight(unittest.TestCase):
     def test_one_height(self):
-        for ridge, h, x in [(RIDGE, "6", "2"), (SLOPE, "0", "0"), (spots("0,4 2,0"), "0", "2"), (PEAK, "4", "2"), (VALLEY, "0", "1"), (LEVEL, "7", "0"), (LEVEL[1:], "7", "2"),
-                            (spots("0,1 2,1 3,5 6,5"), "5", "0"), (spots("0,5 2,5 3,1 6,1"), "5", "2"), (spots("0,0 3,3 4,3 5,0"), "15/4", "15/4"), (spots("0,3 1,0 2,0 3,3"), "0", "1"),
-                            (spots("-3,-8 -1,-4"), "-8", "-3")]:
+        for ridge, h, x in [(RIDGE, "6", "2"), (SLOPE, "0", "0"), (spots("0,4 2,0"), "0", "2"), (PEAK, "4", "2"),
+                            (VALLEY, "0", "1"), (LEVEL, "7", "0"), (LEVEL[1:], "7", "2"),
+                            (spots("0,1 2,1 3,5 6,5"), "5", "0"), (spots("0,5 2,5 3,1 6,1"), "5", "2"),
+                            (spots("0,0 3,3 4,3 5,0"), "15/4", "15/4"), (spots("0,3 1,0 2,0 3,3"), "0", "1"),
+                            (spots("-3,-8 -1,-4"), "-8", "-3"),
+                            # Two lines cross lower down, but beyond an end of the line.
+                            (spots("0,9 4,5 5,2 6,3/2"), "3", "6"), (spots("-6,3/2 -5,2 -4,5 0,9"), "3", "-6")]:
             self.assertEqual(one_height(ridge), (frac(h), frac(x)))
 
     def test_combs(self):
@@ -113,8 +124,9 @@ class OneHeight(unittest.TestCase):
             self.assertEqual(h, told(10 * (exact(x) - 1)) if k > 1 else (0, 1))
 
     def test_of_several_places_the_least(self):
-        # Level ground lies above all other lines along a stretch: its first place is told, wherever that stretch begins.
-        for ridge, x in [("0,5 4,5 6,1 9,5", "4"), ("0,9 1,5 5,5 6,9", "1"), ("0,5 1,5 3,4 4,3 5,4", "2"), ("0,5 1,5 2,5", "0"), ("1,5 3,5 4,4", "3")]:
+        # Level ground lies above all other lines along a stretch: its first place is told, wherever that begins.
+        for ridge, x in [("0,5 4,5 6,1 9,5", "4"), ("0,9 1,5 5,5 6,9", "1"), ("0,5 1,5 3,4 4,3 5,4", "2"),
+                         ("0,5 1,5 2,5", "0"), ("1,5 3,5 4,4", "3")]:
             self.assertEqual(one_height(spots(ridge)), ((5, 1), frac(x)), ridge)
 
     def test_by_the_words(self):
@@ -140,7 +152,8 @@ class OneHeight(unittest.TestCase):
         for _, ridge, _ in some_cases(5, 60):
             h, x = one_height(ridge)
             top = exact(top_of(ridge))
-            for height in {exact(h), exact(h) + Fraction(1, 1000), exact(h) - Fraction(1, 1000), top + Fraction(1, 1000), exact(h) + 7, (exact(h) + top) / 2}:
+            for height in {exact(h), exact(h) + Fraction(1, 1000), exact(h) - Fraction(1, 1000),
+                           top + Fraction(1, 1000), exact(h) + 7, (exact(h) + top) / 2}:
                 if height > top:
                     self.assertIs(fewest(ridge, told(height)) == 1, height >= exact(h))
                     if height >= exact(h):
@@ -184,8 +197,10 @@ class SideBySide(unittest.TestCase):
             a, b = rng.choice(places("3 1/7 1")), rng.choice(places("5/2 1/3 1"))
             spots_more = tuple((rng.randrange(len(ridge) - 1), rng.choice(places("1/2 1/3 0"))) for _ in range(2))
             many = fewest(ridge, h)
-            for other, height in [(mirrored(ridge), h), (shifted(ridge, dx, dy), added(h, dy)), (stretched(ridge, a, b), told(exact(h) * exact(b))),
-                                  (refined(ridge, spots_more), h), (plain(ridge), h), (plain(refined(ridge, spots_more)), h)]:
+            for other, height in [(mirrored(ridge), h), (shifted(ridge, dx, dy), added(h, dy)),
+                                  (stretched(ridge, a, b), told(exact(h) * exact(b))),
+                                  (refined(ridge, spots_more), h), (plain(ridge), h),
+                                  (plain(refined(ridge, spots_more)), h)]:
                 self.assertEqual(fewest(other, height), many)
 
     def test_like_others(self):
@@ -203,12 +218,14 @@ class SideBySide(unittest.TestCase):
             self.assertEqual([word for word, _, _ in rows], ["mirrored", "shifted", "stretched", "plain"])
             self.assertEqual([numbers_of(other, [height]) for _, other, height in rows], [[many]] * 4)
             self.assertEqual([row[1:] for row in rows], [
-                (mirrored(ridge), h), (shifted(ridge, (1, 1), (2, 1)), added(h, (2, 1))), (stretched(ridge, (1, 2), (3, 1)), told(3 * exact(h))), (plain(ridge), h)])
+                (mirrored(ridge), h), (shifted(ridge, (1, 1), (2, 1)), added(h, (2, 1))),
+                (stretched(ridge, (1, 2), (3, 1)), told(3 * exact(h))), (plain(ridge), h)])
 
 
 class Reports(unittest.TestCase):
     def test_report(self):
-        self.assertEqual(report(RIDGE, FOUR), (2, places("4/3 4"), grounds("0:1/2 3:1/2"), ((0, places("2/3 4/3")), (1, places("8/3 4")))))
+        self.assertEqual(report(RIDGE, FOUR), (2, places("4/3 4"), grounds("0:1/2 3:1/2"),
+                                               ((0, places("2/3 4/3")), (1, places("8/3 4")))))
         self.assertEqual(report(LEVEL, (8, 1)), (1, places("5"), grounds("0:1/2"), ((0, places("0 5")),)))
         self.assertEqual(report(PEAK, FIVE)[:2], (1, cover(PEAK, FIVE)))
 
@@ -234,30 +251,45 @@ class Reports(unittest.TestCase):
     def test_faults(self):
         number, drones, watched, tight = report(RIDGE, FOUR)
         for value, expected in [
-                ((2, places("4/3"), watched, tight), ("cover", ("dark", (3, (0, 1), (1, 1))))), ((2, list(drones), watched, tight), ("cover", ("form",))),
-                ((2, (), (), ()), ("cover", ("dark", (0, (0, 1), (1, 1))))), ((2, drones[::-1], watched, tight), ("cover", ("form",))),
-                ((2, drones, grounds("0:1/2 1:1/2"), tight), ("paper", ("meets", 0))), ((2, drones, None, tight), ("paper", ("form",))), ((2, drones, list(watched), tight), ("paper", ("form",))),
-                ((3, drones, watched, tight), ("number",)), ((2, drones, watched[:1], tight), ("number",)), ((2, drones, (), tight), ("number",)), ((1, drones, watched[:1], tight), ("number",)),
-                ((2, places("4/3 2 4"), watched, tight), ("number",)), ((3, places("4/3 2 4"), watched, tight), ("number",)), ((-2, drones, watched, tight), ("number",)),
-                ((10 ** 59, drones, watched, ()), ("number",)), ((3, drones, grounds("0:1/2 1:1/2"), ()), ("paper", ("meets", 0))), ((3, None, None, ()), ("cover", ("form",)))]:
+                ((2, places("4/3"), watched, tight), ("cover", ("dark", (3, (0, 1), (1, 1))))),
+                ((2, list(drones), watched, tight), ("cover", ("form",))),
+                ((2, (), (), ()), ("cover", ("dark", (0, (0, 1), (1, 1))))),
+                ((2, drones[::-1], watched, tight), ("cover", ("form",))),
+                ((2, drones, grounds("0:1/2 1:1/2"), tight), ("paper", ("meets", 0))),
+                ((2, drones, None, tight), ("paper", ("form",))),
+                ((2, drones, list(watched), tight), ("paper", ("form",))),
+                ((3, drones, watched, tight), ("number",)), ((2, drones, watched[:1], tight), ("number",)),
+                ((2, drones, (), tight), ("number",)), ((1, drones, watched[:1], tight), ("number",)),
+                ((2, places("4/3 2 4"), watched, tight), ("number",)),
+                ((3, places("4/3 2 4"), watched, tight), ("number",)), ((-2, drones, watched, tight), ("number",)),
+                ((10 ** 59, drones, watched, ()), ("number",)), ((3, None, None, ()), ("cover", ("form",))),
+                ((3, drones, grounds("0:1/2 1:1/2"), ()), ("paper", ("meets", 0)))]:
             self.assertEqual(judge_report(RIDGE, FOUR, value), expected, value)
 
     def test_tight(self):
         number, drones, watched, tight = report(RIDGE, FOUR)
         one, other = tight
-        for value, k in [((), 0), ((one,), 1), ((other,), 0), ((other, one), 0), ((one, other, other), 2), ((one, other, None), 2), ((one, one), 1), ((one, None), 1),
-                         ((None, other), 0), ((None, None, None), 0), (((False, one[1]), other), 0), ((one, (True, other[1])), 1), ((one, (1, list(other[1]))), 1), ((one, list(other)), 1),
-                         ((one, (1, (True, True))), 1), ((one, other + ()), None), ((one, (1, other[1] + other[1])), 1), ((one, (1, (other[1][0],))), 1), ((one, (1, other[1], 1)), 1),
-                         ((one, (1, other[1][::-1])), 1), ((one, (1, ((16, 6), other[1][1]))), 1), ((one, (1, (other[1][0], (4, True)))), 1), ((one, (1, None)), 1), ((one, (-1, other[1])), 1),
-                         ((one, ("1", other[1])), 1), ((one, other, one, other), 2), ((one, nested(30)), 1), (((0, ((2, 3), (4, 3))), (1, ((8, 3), (4, 1)))), None)]:
+        for value, k in [((), 0), ((one,), 1), ((other,), 0), ((other, one), 0), ((one, other, other), 2),
+                         ((one, other, None), 2), ((one, one), 1), ((one, None), 1), ((one, ()), 1), ((one, (1,)), 1),
+                         (((), other), 0),
+                         ((None, other), 0), ((None, None, None), 0), (((False, one[1]), other), 0),
+                         ((one, (True, other[1])), 1), ((one, (1, list(other[1]))), 1), ((one, list(other)), 1),
+                         ((one, (1, (True, True))), 1), ((one, other + ()), None), ((one, (1, other[1] + other[1])), 1),
+                         ((one, (1, (other[1][0],))), 1), ((one, (1, other[1], 1)), 1),
+                         ((one, (1, other[1][::-1])), 1), ((one, (1, ((16, 6), other[1][1]))), 1),
+                         ((one, (1, (other[1][0], (4, True)))), 1), ((one, (1, None)), 1), ((one, (-1, other[1])), 1),
+                         ((one, ("1", other[1])), 1), ((one, other, one, other), 2), ((one, nested(30)), 1),
+                         (((0, ((2, 3), (4, 3))), (1, ((8, 3), (4, 1)))), None)]:
             expected = None if k is None else ("tight", k)
             self.assertEqual(judge_report(RIDGE, FOUR, (number, drones, watched, value)), expected, value)
 
     def test_form(self):
         number, drones, watched, tight = report(RIDGE, FOUR)
         for value in NONE_AT_ALL + [
-                nested(30), [number, drones, watched, tight], (number, drones, watched), (number, drones, watched, tight, ()), (True, drones, watched, tight), (None, drones, watched, tight),
-                ("2", drones, watched, tight), ((2, 1), drones, watched, tight), (number, drones, watched, list(tight)), (number, drones, watched, None), (number, drones, watched, {}),
+                nested(30), [number, drones, watched, tight], (number, drones, watched),
+                (number, drones, watched, tight, ()), (True, drones, watched, tight), (None, drones, watched, tight),
+                ("2", drones, watched, tight), ((2, 1), drones, watched, tight), (number, drones, watched, list(tight)),
+                (number, drones, watched, None), (number, drones, watched, {}),
                 (number, drones, watched, "ab"), (drones, number, watched, tight), (1, 2, 3, 4), (False, (), (), ())]:
             self.assertEqual(judge_report(RIDGE, FOUR, value), ("form",), value)
 
@@ -271,24 +303,30 @@ class Reports(unittest.TestCase):
 class Compared(unittest.TestCase):
     def test_compared_ridges(self):
         comb, height = combs(2)
-        self.assertEqual([compared_ridges(RIDGE, comb, height), compared_ridges(comb, RIDGE, height), compared_ridges(RIDGE, RIDGE, FOUR), compared_ridges(comb, combs(3)[0], height)], [-1, 1, 0, -1])
+        self.assertEqual([compared_ridges(RIDGE, comb, height), compared_ridges(comb, RIDGE, height),
+                          compared_ridges(RIDGE, RIDGE, FOUR), compared_ridges(comb, combs(3)[0], height)],
+                          [-1, 1, 0, -1])
         self.assertEqual(compared_ridges(combs(8)[0], comb, height), 1)
 
     def test_ranked(self):
         height = (11, 1)
         ridges = [combs(2)[0], RIDGE, combs(3)[0], LEVEL, combs(2)[0]]
         self.assertEqual(ranked(ridges, height), ((1, 1), (1, 3), (2, 0), (2, 4), (3, 2)))
-        self.assertEqual([ranked([], height), ranked([RIDGE], FOUR), ranked(tuple(ridges), height)], [(), ((2, 0),), ranked(ridges, height)])
+        self.assertEqual([ranked([], height), ranked([RIDGE], FOUR), ranked(tuple(ridges), height)],
+                         [(), ((2, 0),), ranked(ridges, height)])
 
     def test_crowded(self):
-        self.assertEqual([crowded(RIDGE, FOUR), crowded(TWO, FIVE), crowded(LEVEL, (8, 1)), crowded(*combs(3))], [(0, 3), (0, 3), (0,), crowded(*combs(3))])
+        self.assertEqual([crowded(RIDGE, FOUR), crowded(TWO, FIVE), crowded(LEVEL, (8, 1)), crowded(*combs(3))],
+                         [(0, 3), (0, 3), (0,), (0, 3, 6)])
         for _, ridge, h in some_cases(11, 30):
             self.assertEqual(crowded(ridge, h), tuple(sorted({i for i, _ in paper(ridge, h)})))
 
     def test_seen_rows(self):
         heights = list(places("4 6"))
-        self.assertEqual([seen_rows(RIDGE, heights, places("4/3")), seen_rows(RIDGE, heights, ()), seen_rows(RIDGE, [], places("2"))], [[4, 4], [0, 0], []])
-        self.assertEqual([seen_rows(RIDGE, heights, places("4/3 4")), seen_rows(RIDGE, heights, places("0")), seen_rows(RIDGE, heights[::-1], places("2"))], [[5, 5], [3, 4], [5, 3]])
+        self.assertEqual([seen_rows(RIDGE, heights, places("4/3")), seen_rows(RIDGE, heights, ()),
+                          seen_rows(RIDGE, [], places("2"))], [[4, 4], [0, 0], []])
+        self.assertEqual([seen_rows(RIDGE, heights, places("4/3 4")), seen_rows(RIDGE, heights, places("0")),
+                          seen_rows(RIDGE, heights[::-1], places("2"))], [[5, 5], [3, 4], [5, 3]])
 
     def test_seen_rows_by_the_words(self):
         for rng, ridge, h in some_cases(12, 40):

@@ -9,7 +9,8 @@ from itertools import combinations
 
 from helpers import (
     NONE_AT_ALL, dark_by_words, dice, ends_by_words, exact, grounds, inner_by_words, lead_by_words, nested, numbers,
-    parts, places, sees_by_words, some_case, some_points, some_room, some_spots_in, some_teeth, spot, spots, told, whole,
+    parts, places, sees_by_words, some_case, some_points, some_room, some_spots_in, some_teeth, spot, spots, told,
+    whole,
 )
 from ridgewatch.cameras import cameras
 from ridgewatch.desk import Desk
@@ -31,25 +32,35 @@ BOARD = done(done(new_board(RIDGE, (4, 1)), ("put", (2, 1))), ("put", (3, 1)))
 HALF = (1, 2)
 
 PASSED = {
-    "value": None, "u": 6, "e": -4, "x": (2, 1), "y": (1, 3), "t": HALF, "i": 1, "j": 0, "k": 1, "m": 1, "r": 1, "c": 3, "some": places("1/2 1/3"),
-    "one": RIDGE, "other": spots("0,0 1,2"), "ridge": RIDGE, "h": (4, 1), "height": (4, 1), "heights": [(4, 1), (6, 1)], "g": (1, HALF), "ground": (1, HALF),
-    "grounds": grounds("0:1/2 3:1/3"), "drones": places("2 3"), "places": places("2 3 1"), "parts": parts("0:0:1 3:1/2:1"), "dx": (1, 1), "dy": HALF, "s": (3, 1), "f": (2, 1),
-    "word": "ridge", "spots": RIDGE, "text": "1/2", "more": (("drones", places("2")),), "spot": spot("1,1"), "room": ROOM, "camera": spot("3,1"), "cameras": [spot("3,1"), spot("1,3")],
-    "side": (HALF, (1, 1), (0, 1)), "form": ROOM[:3], "walls": (0, 2, 4), "lead": HALF, "cut": CUT, "corners": (0, 3), "choice": RING, "board": BOARD, "deed": ("drop", 1),
+    "value": None, "u": 6, "e": -4, "x": (2, 1), "y": (1, 3), "t": HALF, "i": 1, "j": 0, "k": 1, "m": 1, "r": 1, "c": 3,
+    "some": places("1/2 1/3"),
+    "one": RIDGE, "other": spots("0,0 1,2"), "ridge": RIDGE, "h": (4, 1), "height": (4, 1), "heights": [(4, 1), (6, 1)],
+    "g": (1, HALF), "ground": (1, HALF),
+    "grounds": grounds("0:1/2 3:1/3"), "drones": places("2 3"), "places": places("2 3 1"),
+    "parts": parts("0:0:1 3:1/2:1"), "dx": (1, 1), "dy": HALF, "s": (3, 1), "f": (2, 1),
+    "word": "ridge", "spots": RIDGE, "text": "1/2", "more": (("drones", places("2")),), "spot": spot("1,1"),
+    "room": ROOM, "camera": spot("3,1"), "cameras": [spot("3,1"), spot("1,3")],
+    "side": (HALF, (1, 1), (0, 1)), "form": ROOM[:3], "walls": (0, 2, 4), "lead": HALF, "cut": CUT, "corners": (0, 3),
+    "choice": RING, "board": BOARD, "deed": ("drop", 1),
     "deeds": (("drop", 1),), "ridges": [RIDGE, mirrored(RIDGE)],
 }
 """What is passed for an argument of this name."""
 
 OTHERWISE = {
-    "spots": {"a": spot("0,0"), "b": spot("2,1"), "c": spot("1,5"), "d": spot("3,0"), "spots": ROOM}, "ridges": {"a": (1, 1), "b": (3, 1)}, "sight": {"drones": [(2, 1), (3, 1)], "spots": [(1, HALF), (2, HALF)]},
-    "slopes": {"drones": [(2, 1), (3, 1)]}, "ground": {"spot": (1, HALF)}, "views": {"one": spot("3,1"), "other": spot("1,3")}, "rooms": {"one": ROOM, "other": ROOM[1:] + ROOM[:1], "i": 0, "j": 3},
+    "spots": {"a": spot("0,0"), "b": spot("2,1"), "c": spot("1,5"), "d": spot("3,0"), "spots": ROOM},
+    "ridges": {"a": (1, 1), "b": (3, 1)}, "sight": {"drones": [(2, 1), (3, 1)], "spots": [(1, HALF), (2, HALF)]},
+    "slopes": {"drones": [(2, 1), (3, 1)]}, "ground": {"spot": (1, HALF)},
+    "views": {"one": spot("3,1"), "other": spot("1,3")},
+    "rooms": {"one": ROOM, "other": ROOM[1:] + ROOM[:1], "i": 0, "j": 3},
     "choosing": {"spots": grounds("0:1/2 3:1/3"), "spot": 1, "cameras": (0, 2)},
 }
 """What is passed in these files instead."""
 
 ALONE = {
-    "posed_room": {"t": 5}, "begun_at": {"i": 2}, "choice_of_room": {"cameras": ROOM, "spots": ROOM[:2]}, "read_spots": {"text": "ridge 0,0 1,1"}, "read_grounds": {"text": "at 0:1/2"}, "read_drones": {"text": "drones 1"},
-    "read_survey": {"text": "room 0,0\nat -"}, "read_deed": {"text": "put 1"}, "read_log": {"text": "put 1\ndrop 2"}, "redone": {"board": dict(BOARD, back=(("drop", 1),))}, "spots_text": {"spots": RIDGE},
+    "posed_room": {"t": 5}, "begun_at": {"i": 2}, "choice_of_room": {"cameras": ROOM, "spots": ROOM[:2]},
+    "read_spots": {"text": "ridge 0,0 1,1"}, "read_grounds": {"text": "at 0:1/2"}, "read_drones": {"text": "drones 1"},
+    "read_survey": {"text": "room 0,0\nat -"}, "read_deed": {"text": "put 1"}, "read_log": {"text": "put 1\ndrop 2"},
+    "redone": {"board": dict(BOARD, back=(("drop", 1),))}, "spots_text": {"spots": RIDGE},
     "greedy_drones": {"places": places("2 3 1")}, "refined": {"grounds": grounds("0:1/2 3:1/3")},
 }
 """What is passed to these functions instead."""
@@ -90,7 +101,8 @@ class Calls(unittest.TestCase):
             # What callers change in an answer stays their own.
             if function.__name__ not in ("new_board", "done", "undone", "redone"):
                 spoil(one)
-                self.assertEqual([repr(arguments), repr(again), repr(function(*arguments))], [repr(before), repr(kept), repr(kept)], function)
+                self.assertEqual([repr(arguments), repr(again), repr(function(*arguments))],
+                                 [repr(before), repr(kept), repr(kept)], function)
             many += 1
         self.assertGreater(many, 150)
 
@@ -105,13 +117,15 @@ class Calls(unittest.TestCase):
             if "value" not in names:
                 continue
             many += 1
-            for value in NONE_AT_ALL + [nested(40), [nested(29)], "~" * 200, {"a": {"b": []}}, ((),) * 50, tuple([None] * 200)]:
+            for value in NONE_AT_ALL + [nested(40), [nested(29)], "~" * 200, {"a": {"b": []}}, ((),) * 50,
+                                        tuple([None] * 200)]:
                 arguments[names.index("value")] = value
                 answer = function(*arguments)
                 if function.__name__.startswith("is_"):
                     self.assertIn(repr(answer), ("True", "False"), (function, value))
                 else:
-                    self.assertTrue(answer is None or isinstance(answer, tuple) and isinstance(answer[0], str), (function, value))
+                    self.assertTrue(answer is None or isinstance(answer, tuple) and isinstance(answer[0], str),
+                                    (function, value))
         self.assertGreater(many, 25)
 
     def test_where_a_list_is_asked_a_tuple_may_be_passed(self):
@@ -159,7 +173,8 @@ class Mountains(unittest.TestCase):
     def test_fewer_drones_at_many_places_leave_something_dark(self):
         for rng, ridge, h in self.cases(2, 25):
             many = fewest(ridge, h)
-            ends = [end for i in range(len(ridge) - 1) for t in ((0, 1), HALF, (1, 1)) for end in reach(ridge, h, (i, t))]
+            watched = [(i, t) for i in range(len(ridge) - 1) for t in ((0, 1), HALF, (1, 1))]
+            ends = [end for g in watched for end in reach(ridge, h, g)]
             tried = sorted(set(ends) | set(cover(ridge, h)), key=exact)
             tried = sorted(rng.sample(tried, min(len(tried), 9)), key=exact)
             for some in combinations(tried, many - 1):
@@ -168,9 +183,11 @@ class Mountains(unittest.TestCase):
     def test_all_ways_to_the_number_agree(self):
         for _, ridge, h in self.cases(3, 15):
             house, desk = House(ridge, h), Desk(ridge, h)
-            told_first = [fewest(ridge, h), report(ridge, h)[0], house.missing(), house.fewest()[0], int(desk.say("missing")), int(desk.say("fewest")), house.watch(), int(desk.say("watch"))]
+            told_first = [fewest(ridge, h), report(ridge, h)[0], house.missing(), house.fewest()[0],
+                          int(desk.say("missing")), int(desk.say("fewest")), house.watch(), int(desk.say("watch"))]
             self.assertEqual(told_first, [len(cover(ridge, h))] * 8)
-            self.assertEqual([house.drones(), house.board(), house.thin(), house.watched()], [cover(ridge, h), desk.house().board(), 0, True])
+            self.assertEqual([house.drones(), house.board(), house.thin(), house.watched()],
+                             [cover(ridge, h), desk.house().board(), 0, True])
 
 
 class Rooms(unittest.TestCase):
