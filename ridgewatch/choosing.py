@@ -98,7 +98,7 @@ def fewest_seeing(choice, r):
     everyone = all_cameras(choice)
     if not see_each(watchers, everyone, r):
         return None
-    for many in everyone:
+    for many in range(len(everyone)):
         for cameras in combinations(range(len(everyone)), many):
             if see_each(watchers, cameras, r):
                 return cameras
