@@ -3,7 +3,7 @@
 from ridgewatch.drones import cover, fewest, judge_cover, judge_paper, paper
 from ridgewatch.fractions import HALF, ONE, added, compared, greatest_of, is_pair, is_whole, multiplied, order_of
 from ridgewatch.ground import stretch_of
-from ridgewatch.ridges import ground_at, line_of, mirrored, plain, shifted, slopes_of, stretched
+from ridgewatch.ridges import ground_at, is_place, line_of, mirrored, plain, shifted, slopes_of, stretched
 from ridgewatch.sight import seen_by
 from ridgewatch.spots import crossing, height_at
 
@@ -40,13 +40,12 @@ def height_over(ridge, x):
 
 def turning_places(ridge):
     """The places of the line at which two of the lines along the slopes cross, and its ends."""
-    start, end = line_of(ridge)
-    places = [start, end]
+    places = list(line_of(ridge))
     ends = slope_ends(ridge)
     for a, b in ends:
         for c, d in ends:
             spot = crossing(a, b, c, d)
-            if spot is not None and compared(start, spot[0]) < 0 and compared(spot[0], end) < 0:
+            if spot is not None and is_place(ridge, spot[0]):
                 places.append(spot[0])
     return places
 
